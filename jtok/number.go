@@ -1,0 +1,69 @@
+package jtok
+
+// IsNumber tells whether s, whole, is a number.
+func IsNumber(s string) bool {
+	end, ok := number(s, 0)
+	return ok && end == len(s)
+}
+
+// number tells where the number that begins at a byte ends, as far as it goes;
+// if there is none, where a digit lacks, and false.
+func number[T string | []byte](b T, at int) (int, bool) {
+	if here(b, at) == '-' {
+		at++
+	}
+	if here(b, at) == '0' {
+		at++
+		goto fraction
+	}
+	if !isDigit(here(b, at)) {
+		goto lacking
+	}
+	at = behindDigits(b, at)
+
+fraction:
+	if here(b, at) != '.' {
+		goto exponent
+	}
+	at++
+	if !isDigit(here(b, at)) {
+		goto lacking
+	}
+	at = behindDigits(b, at)
+
+exponent:
+	if c := here(b, at); c != 'e' && c != 'E' {
+		return at, true
+	}
+	at++
+	if c := here(b, at); c == '+' || c == '-' {
+		at++
+	}
+	if !isDigit(here(b, at)) {
+		goto lacking
+	}
+	return behindDigits(b, at), true
+
+lacking:
+	return at, false
+}
+
+// here is the byte that stands there; behind the end 0, which is part of no
+// number.
+func here[T string | []byte](b T, at int) byte {
+	if at < len(b) {
+		return b[at]
+	}
+	return 0
+}
+
+func isDigit(c byte) bool {
+	return c >= '0' && c <= '9'
+}
+
+func behindDigits[T string | []byte](b T, at int) int {
+	for isDigit(here(b, at)) {
+		at++
+	}
+	return at
+}
