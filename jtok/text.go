@@ -21,9 +21,8 @@ func (s *scanner) text() bool {
 	for s.at < len(s.b) {
 		switch c := s.b[s.at]; {
 		case c == '"':
-			read = append(read, s.b[from:s.at]...)
+			s.put(api.TokString, begin, string(read)+string(s.b[from:s.at]))
 			s.at++
-			s.put(api.TokString, begin, string(read))
 			return true
 		case c == '\\':
 			read = append(read, s.b[from:s.at]...)
