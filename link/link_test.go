@@ -1,0 +1,116 @@
+package link_test
+
+import (
+	"strconv"
+	"strings"
+	"testing"
+
+	"gossamer/api"
+	"gossamer/file"
+	"gossamer/link"
+	"gossamer/tree"
+)
+
+func dir(p string) api.Node      { return api.Node{Path: p, Kind: api.Dir} }
+func leaf(p string) api.Node     { return api.Node{Path: p, Kind: api.File, Data: "x"} }
+func to(p, data string) api.Node { return api.Node{Path: p, Kind: api.Link, Data: data} }
+
+func some(t *testing.T) *tree.Tree {
+	t.Helper()
+	s, code := tree.New(
+		dir("/a"), dir("/a/b"), leaf("/a/b/f"), leaf("/f"), dir("/a/..."),
+		to("/loop", "/loop"), to("/x", "y"), to("/y", "x"), to("/root", "/"), to("/up", ".."), to("/a/b/up", ".."), to("/a/b/far", "../../f"), to("/ab", "a/b"), to("/abs", "/a/b/"), to("/none", "nowhere"), to("/self", "."), to("/deep", "ab/far"),
+		to("/a/b/here", "f"), to("/slash", "f/"), to("/dots", "./a/./b/../b//f"), to("/under", "f/g"), to("/a/out", "/root/a/b"),
+	)
+	if code != api.OK {
+		t.Fatal(code)
+	}
+	return s
+}
+
+func TestReal(t *testing.T) { // P16.1
+	s := some(t)
+	for p, want := range map[string]string{
+		"/": "/", "//": "/", "/.": "/", "/..": "/", "/../..": "/", "/a": "/a", "/a/": "/a", "/a/.": "/a", "/a/..": "/", "//a//b/": "/a/b", "/a/../a/./b": "/a/b", "/a/b/../..": "/", "/a/...": "/a/...", "/root": "/", "/root/a": "/a", "/up": "/", "/a/b/up": "/a", "/a/b/up/b": "/a/b", "/ab/up": "/a", "/ab/..": "/a",
+		"/ab": "/a/b", "/abs": "/a/b", "/abs/": "/a/b", "/self": "/", "/self/self/a": "/a", "/root/self/up/a/out/..": "/a", "/a/out": "/a/b",
+	} {
+		if got, kind, code := link.Real(s, p); got != want || kind != api.Dir || code != api.OK {
+			t.Errorf("Real(%q) = %q, %d, %d", p, got, kind, code)
+		}
+	}
+	for p, want := range map[string]string{
+		"/f": "/f", "/root/root/f": "/f", "/f/": "/f", "/f/.": "/f", "/f//./": "/f", "/a/b/f": "/a/b/f", "/ab/f": "/a/b/f", "/ab/far": "/f", "/a/b/far": "/f", "/deep": "/f", "/deep/.": "/f", "/abs/here": "/a/b/f", "/slash": "/f", "/slash/": "/f", "/dots": "/a/b/f", "/ab/../b/f": "/a/b/f", "/../f": "/f", "/a/out/f": "/a/b/f",
+	} {
+		if got, kind, code := link.Real(s, p); got != want || kind != api.File || code != api.OK {
+			t.Errorf("Real(%q) = %q, %d, %d", p, got, kind, code)
+		}
+	}
+	for p, want := range map[string]api.Errno{
+		"": api.ErrArg, "a": api.ErrArg, "./a": api.ErrArg, " /": api.ErrArg, "/c": api.ErrNone, "/a/c": api.ErrNone, "/f/g": api.ErrNone, "/f/..": api.ErrNone, "/f/../a": api.ErrNone, "/f/./..": api.ErrNone, "/c/..": api.ErrNone, "/none": api.ErrNone, "/none/..": api.ErrNone, "/a/b/f/f": api.ErrNone, "/under": api.ErrNone, "/slash/..": api.ErrNone, "/A": api.ErrNone, "/....": api.ErrNone, "/%61": api.ErrNone, "/f/ ": api.ErrNone,
+		"/loop": api.ErrLoop, "/loop/a": api.ErrLoop, "/x": api.ErrLoop, "/y/..": api.ErrLoop, "/a/../x": api.ErrLoop, "/loop/c": api.ErrLoop, "/a\x00": api.ErrNone,
+		strings.Repeat("/", api.MaxBytes+1): api.ErrSize, strings.Repeat("a", api.MaxBytes+1): api.ErrArg, "/" + strings.Repeat("a", api.MaxBytes): api.ErrSize,
+	} {
+		if got, kind, code := link.Real(s, p); got != "" || kind != 0 || code != want {
+			t.Errorf("Real(%.20q) = %q, %d, %d", p, got, kind, code)
+		}
+	}
+	if got, kind, code := link.Real(nil, "/"); got != "" || kind != 0 || code != api.ErrNil {
+		t.Errorf("Real without a tree = %q, %d, %d", got, kind, code)
+	}
+}
+
+func TestMostLinks(t *testing.T) { // P16.1
+	nodes := []api.Node{leaf("/0"), dir("/d"), to("/d/s", ".")}
+	for i := 1; i <= api.MaxLinks+1; i++ {
+		nodes = append(nodes, to("/"+strconv.Itoa(i), strconv.Itoa(i-1)))
+	}
+	s, _ := tree.New(nodes...)
+	for p, want := range map[string]api.Errno{
+		"/" + strconv.Itoa(api.MaxLinks): api.OK, "/" + strconv.Itoa(api.MaxLinks+1): api.ErrLoop,
+		"/d" + strings.Repeat("/s", api.MaxLinks): api.OK, "/d" + strings.Repeat("/s", api.MaxLinks) + "/./..//d": api.OK, "/d" + strings.Repeat("/s", api.MaxLinks+1): api.ErrLoop, "/d" + strings.Repeat("/s", api.MaxLinks) + "/x/s": api.ErrNone,
+	} {
+		if got, _, code := link.Real(s, p); code != want {
+			t.Errorf("Real(%s) = %q, %d", p, got, code)
+		}
+	}
+}
+
+func TestAsks(t *testing.T) { // P16.1
+	s := some(t)
+	for i, p := range []string{"/", "", "/c", "/loop", strings.Repeat("/", api.MaxBytes+1), "/deep"} {
+		link.Real(s, p)
+		if s.Asked() != i+1 {
+			t.Errorf("behind %.10q asked %d times", p, s.Asked())
+		}
+	}
+}
+
+func TestLeadsToItself(t *testing.T) { // P16.2
+	s := some(t)
+	parts := []string{"a", "b", "f", "..", ".", "", "x", "root", "up", "ab", "abs", "far", "self", "deep", "here", "slash", "dots", "out"}
+	var try func(p string, deep int)
+	try = func(p string, deep int) {
+		got, kind, code := link.Real(s, p)
+		if again, also, ok := link.Real(s, got); code == api.OK && (!file.Clean(got) || again != got || also != kind || ok != api.OK) {
+			t.Errorf("%q leads to %q, that to %q", p, got, again)
+		}
+		if n, _ := s.Look(got); code == api.OK && n.Kind != kind {
+			t.Errorf("%q leads to %q, of kind %d", p, got, kind)
+		}
+		if deep > 0 {
+			for _, part := range parts {
+				try(p+"/"+part, deep-1)
+			}
+		}
+	}
+	try("", 4)
+}
+
+func TestMegabyte(t *testing.T) {
+	s := some(t)
+	for _, p := range []string{strings.Repeat("/", api.MaxBytes), strings.Repeat("/.", api.MaxBytes/2), strings.Repeat("/a/..", api.MaxBytes/5), "/a/b" + strings.Repeat("/../b", 200000), strings.Repeat("/..", api.MaxBytes/3)} {
+		if _, _, code := link.Real(s, p); code != api.OK {
+			t.Errorf("Real(%.10q..): %d", p, code)
+		}
+	}
+}
