@@ -6,42 +6,16 @@ import (
 	"testing"
 
 	"gossamer/api"
+	"gossamer/made"
 	"gossamer/shed"
 	"gossamer/tree"
 	"gossamer/url"
 	"gossamer/ushow"
 )
 
-// made makes a tree of texts: a path alone is a folder; path=data a file; path->to
-// a link. What lies above is made, too.
-func made(t *testing.T, texts ...string) *tree.Tree {
+func grown(t *testing.T, texts ...string) *tree.Tree {
 	t.Helper()
-	var nodes []api.Node
-	seen := map[string]int{}
-	var lay func(n api.Node)
-	lay = func(n api.Node) {
-		if i, ok := seen[n.Path]; ok {
-			nodes[i] = n
-			return
-		}
-		if i := strings.LastIndexByte(n.Path, '/'); i > 0 {
-			if _, ok := seen[n.Path[:i]]; !ok {
-				lay(api.Node{Path: n.Path[:i], Kind: api.Dir})
-			}
-		}
-		seen[n.Path] = len(nodes)
-		nodes = append(nodes, n)
-	}
-	for _, s := range texts {
-		if p, data, ok := strings.Cut(s, "="); ok && !strings.Contains(p, "->") {
-			lay(api.Node{Path: p, Kind: api.File, Data: data})
-		} else if p, to, ok := strings.Cut(s, "->"); ok {
-			lay(api.Node{Path: p, Kind: api.Link, Data: to})
-		} else {
-			lay(api.Node{Path: s, Kind: api.Dir})
-		}
-	}
-	s, code := tree.New(nodes...)
+	s, code := tree.New(made.Nodes(texts...)...)
 	if code != api.OK {
 		t.Fatalf("%q: %d", texts, code)
 	}
@@ -65,7 +39,7 @@ func show(u api.URL) string {
 }
 
 func TestKind(t *testing.T) { // P27.1
-	s := made(t, "/a/f=x", "/l->a/f", "/d->a", "/loop->loop", "/a b=", "/x\\y=")
+	s := grown(t, "/a/f=x", "/l->a/f", "/d->a", "/loop->loop", "/a b=", "/x\\y=")
 	for u, want := range map[string]int{
 		"file:///": api.Dir, "file:///a": api.Dir, "file:///a/": api.Dir, "file:///a/f": api.File, "file:///a/f/": api.File, "file:///l": api.File, "file:///d/f?q#r": api.File, "file:///d": api.Dir, "file:///a%20b": api.File, "file:///%61": api.Dir, "file:///a//f": api.File,
 		"file:///c": 0, "file:///loop": 0, "file:///a/f/g": 0, "file://h/a": 0, "http://h/a": 0, "file:///a%2ff": 0, "file:///x%5Cy": 0, "data:a": 0,
@@ -80,7 +54,7 @@ func TestKind(t *testing.T) { // P27.1
 }
 
 func TestRead(t *testing.T) { // P27.1
-	s := made(t, `/a/package.json={"name":"a"}`, "/b/package.json->../a/package.json", "/c/package.json={", "/d/package.json/x=", "/e/f=", `/package.json={"type":"module"}`, "/g->a", "/h/package.json->nowhere", `/x\y/package.json={}`)
+	s := grown(t, `/a/package.json={"name":"a"}`, "/b/package.json->../a/package.json", "/c/package.json={", "/d/package.json/x=", "/e/f=", `/package.json={"type":"module"}`, "/g->a", "/h/package.json->nowhere", `/x\y/package.json={}`)
 	for folder, want := range map[string]api.Package{"file:///a/": {Name: "a", HasName: true}, "file:///b/": {Name: "a", HasName: true}, "file:///g/": {Name: "a", HasName: true}, "file:///": {Type: "module"}} {
 		if got, ok, code := shed.Read(s, parse(t, folder)); !reflect.DeepEqual(got, want) || !ok || code != api.OK {
 			t.Errorf("Read(%s) = %v, %v, %d", folder, got, ok, code)
@@ -100,7 +74,7 @@ func TestRead(t *testing.T) { // P27.1
 }
 
 func TestScope(t *testing.T) { // P27.2
-	s := made(t, "/package.json={}", "/a/package.json={", "/a/b/c=", "/a/node_modules/package.json={}", "/a/node_modules/p/package.json={}", "/a/node_modules/q/r=", "/d/package.json/x=", "/e->a", "/f g/package.json={}", "/h/node_modules_/x=")
+	s := grown(t, "/package.json={}", "/a/package.json={", "/a/b/c=", "/a/node_modules/package.json={}", "/a/node_modules/p/package.json={}", "/a/node_modules/q/r=", "/d/package.json/x=", "/e->a", "/f g/package.json={}", "/h/node_modules_/x=")
 	for from, want := range map[string]string{
 		"file:///": "file:///", "file:///x": "file:///", "file:///a": "file:///", "file:///a/": "file:///a/", "file:///a/b/c": "file:///a/", "file:///a/b/c/d/e": "file:///a/", "file:///a/node_modules/p/x": "file:///a/node_modules/p/", "file:///a/node_modules/p/x/y": "file:///a/node_modules/p/", "file:///d/x": "file:///", "file:///d/package.json/y": "file:///", "file:///e/x": "file:///e/", "file:///f%20g/x?q": "file:///f%20g/", "file:///a//b/c": "file:///a/", "file:///node_modules": "file:///", "file:///h/node_modules_/x": "file:///", "file:///NODE_MODULES/x": "file:///",
 	} {
@@ -113,7 +87,7 @@ func TestScope(t *testing.T) { // P27.2
 			t.Errorf("Scope(%s) = %s, %v", from, show(got), ok)
 		}
 	}
-	if got, ok := shed.Scope(made(t, "/a/b="), parse(t, "file:///a/b")); show(got) != "" || ok {
+	if got, ok := shed.Scope(grown(t, "/a/b="), parse(t, "file:///a/b")); show(got) != "" || ok {
 		t.Error("Scope without a package.json")
 	}
 	if got, ok := shed.Scope(nil, parse(t, "file:///a/b")); show(got) != "" || ok {
@@ -142,7 +116,7 @@ type asked struct {
 }
 
 func TestFind(t *testing.T) { // P27.4
-	s := made(t, "/n/a.js=", "/n/node_modules/p/m.js=", "/n/node_modules/q/package.json={\"main\":\"lib/m.js\"}", "/n/node_modules/e/package.json={\"main\":\"x\",\"exports\":{\".\":\"./m.js\",\"./*\":{\"c\":\"./c/*.js\",\"default\":\"./d/*.js\"}}}", "/n/node_modules/bad/package.json=[", "/n/node_modules/file=", "/n/node_modules/@s/t/package.json={\"exports\":\"./t.js\"}",
+	s := grown(t, "/n/a.js=", "/n/node_modules/p/m.js=", "/n/node_modules/q/package.json={\"main\":\"lib/m.js\"}", "/n/node_modules/e/package.json={\"main\":\"x\",\"exports\":{\".\":\"./m.js\",\"./*\":{\"c\":\"./c/*.js\",\"default\":\"./d/*.js\"}}}", "/n/node_modules/bad/package.json=[", "/n/node_modules/file=", "/n/node_modules/@s/t/package.json={\"exports\":\"./t.js\"}",
 		"/n/node_modules/l->../real", "/n/real/x=", "/n/node_modules/here->nowhere", "/n/node_modules/u/package.json={\"main\":\"http://h/x\"}", "/n/node_modules/v/package.json={\"main\":\"//\\u00e9\"}", "/n/node_modules/w/package.json={\"main\":\"\"}", "/n/node_modules/y/package.json={\"main\":\"../../z\"}",
 		"/node_modules/p/up=", "/node_modules/top/x=", "/n/d/node_modules/node_modules/k/x=", "/n/node_modules/#h/x=", "/n/node_modules/a b/x=", "/n/node_modules/none/package.json={\"exports\":null,\"main\":\"m\"}",
 		"/s/package.json={\"name\":\"self\",\"exports\":{\".\":\"./i.js\",\"./n\":null}}", "/s/x/y.js=", "/s/node_modules/self/package.json={}", "/s/node_modules/o/package.json={}", "/t/package.json={", "/t/node_modules/p/x=", "/v/package.json={\"name\":\"self\"}", "/v/node_modules/self/x=", "/w/package.json={\"exports\":\"./i.js\"}", "/w/node_modules/x/y=", "/x/package.json={\"name\":\"\",\"exports\":\"./i.js\"}")
@@ -164,13 +138,13 @@ func TestFind(t *testing.T) { // P27.4
 	if got, code := shed.Find(nil, "", parse(t, "file:///n/a.js")); show(got) != "" || code != api.ErrNil {
 		t.Errorf("Find without a tree = %s, %d", show(got), code)
 	}
-	if got, code := shed.Find(made(t), "a", parse(t, "file:///x")); show(got) != "" || code != api.ErrNone {
+	if got, code := shed.Find(grown(t), "a", parse(t, "file:///x")); show(got) != "" || code != api.ErrNone {
 		t.Errorf("Find in an empty tree = %s, %d", show(got), code)
 	}
 }
 
 func TestInner(t *testing.T) { // P27.5
-	s := made(t, `/n/package.json={"imports":{"#a":"./a.js","#b":"p","#b/*":"p/*","#c":{"c":"./c.js","default":"q"},"#bad":"../x","#gone":"missing","#self":"n","#wrong":"%","#null":null,"#ring":"#ring"},"name":"n","exports":"./n.js"}`, "/n/d/e.js=", "/n/node_modules/p/package.json={\"main\":\"m.js\"}", "/n/d/node_modules/p/x=", "/m/package.json={}", "/l/package.json={", "/k/x=", "/j/package.json={\"imports\":[]}", "/n/node_modules/#ring/x=")
+	s := grown(t, `/n/package.json={"imports":{"#a":"./a.js","#b":"p","#b/*":"p/*","#c":{"c":"./c.js","default":"q"},"#bad":"../x","#gone":"missing","#self":"n","#wrong":"%","#null":null,"#ring":"#ring"},"name":"n","exports":"./n.js"}`, "/n/d/e.js=", "/n/node_modules/p/package.json={\"main\":\"m.js\"}", "/n/d/node_modules/p/x=", "/m/package.json={}", "/l/package.json={", "/k/x=", "/j/package.json={\"imports\":[]}", "/n/node_modules/#ring/x=")
 	for _, c := range []asked{
 		{"#a", "file:///n/d/e.js", "file:///n/a.js", api.OK}, {"#b", "file:///n/d/e.js", "file:///n/node_modules/p/m.js", api.OK}, {"#b/x", "file:///n/d/e.js", "file:///n/node_modules/p/x", api.OK}, {"#c", "file:///n/x", "file:///n/c.js", api.OK}, {"#self", "file:///n/x", "file:///n/n.js", api.OK}, {"#ring", "file:///n/x", "file:///n/node_modules/%23ring/", api.OK},
 		{"#", "file:///n/x", "", api.ErrSpec}, {"#/", "file:///k/x", "", api.ErrSpec}, {"#/a", "http://h/", "", api.ErrSpec}, {"#a", "file:///k/x", "", api.ErrImports}, {"#a", "http://h/", "", api.ErrImports}, {"#a", "file:///n/node_modules/x", "", api.ErrImports}, {"#a", "file:///m/x", "", api.ErrImports}, {"#a", "file:///j/x", "", api.ErrImports}, {"#a", "file:///l/x", "", api.ErrConfig}, {"#z", "file:///n/x", "", api.ErrImports}, {"#null", "file:///n/x", "", api.ErrImports}, {"#bad", "file:///n/x", "", api.ErrTarget}, {"#gone", "file:///n/x", "", api.ErrNone}, {"#wrong", "file:///n/x", "", api.ErrSpec}, {"#b/..", "file:///n/x", "file:///n/node_modules/", api.OK},
@@ -185,7 +159,7 @@ func TestInner(t *testing.T) { // P27.5
 }
 
 func TestLongTexts(t *testing.T) { // P27.4, and time
-	s := made(t, `/n/package.json={"imports":{"#*":"`+strings.Repeat("*", 1<<19)+`"}}`, `/n/node_modules/p/package.json={"exports":{"./*":"./x.js?*"}}`)
+	s := grown(t, `/n/package.json={"imports":{"#*":"`+strings.Repeat("*", 1<<19)+`"}}`, `/n/node_modules/p/package.json={"exports":{"./*":"./x.js?*"}}`)
 	long := strings.Repeat("x", 1<<19)
 	if _, code := shed.Find(s, long+"/y", parse(t, "file://"+strings.Repeat("/n", 200000))); code != api.ErrNone {
 		t.Errorf("long texts: %d", code)
