@@ -8,10 +8,10 @@ import (
 	"gossamer/climb"
 	"gossamer/door"
 	"gossamer/file"
+	"gossamer/gate"
 	"gossamer/paths"
 	"gossamer/tree"
 	"gossamer/url"
-	"gossamer/ushow"
 )
 
 // Find tells what a bare specifier means: of the package itself, or of one that
@@ -34,7 +34,7 @@ func Find(t *tree.Tree, spec string, from api.URL, conds ...string) (api.URL, ap
 			return api.URL{}, code
 		}
 		if says.HasExports && says.HasName && says.Name == name {
-			return exports(folder, rest, says, conds)
+			return gate.Exports(folder, rest, says, conds)
 		}
 	}
 	if len(name) > api.MaxBytes || !file.Clean("/"+name) {
@@ -59,33 +59,11 @@ func inside(t *tree.Tree, folder api.URL, rest string, conds []string) (api.URL,
 	case code != api.OK:
 		return api.URL{}, code
 	case says.HasExports:
-		return exports(folder, rest, says, conds)
+		return gate.Exports(folder, rest, says, conds)
 	case rest == "." && says.HasMain:
 		return url.Join(says.Main, folder)
 	}
 	return url.Join(rest, folder)
-}
-
-func exports(folder api.URL, rest string, says api.Package, conds []string) (api.URL, api.Errno) {
-	led, code := door.Exports(folder, rest, says.Exports, conds...)
-	if code != api.OK {
-		return api.URL{}, code
-	}
-	return told(folder, led.URL), api.OK
-}
-
-// told reads a URL within a folder that was told. It may be longer than what
-// url reads, for telling by % makes longer: then its parts are as they stand.
-func told(folder api.URL, s string) api.URL {
-	if u, code := url.Parse(s); code == api.OK {
-		return u
-	}
-	u := api.URL{Scheme: folder.Scheme, User: folder.User, Pass: folder.Pass, Host: folder.Host, Port: folder.Port}
-	s = strings.TrimPrefix(s, ushow.Show(u)+"/")
-	s, u.Fragment, u.HasFragment = strings.Cut(s, "#")
-	s, u.Query, u.HasQuery = strings.Cut(s, "?")
-	u.Path = strings.Split(s, "/")
-	return u
 }
 
 // Inner tells what a package means by a name of its own.
@@ -114,5 +92,5 @@ func Inner(t *tree.Tree, spec string, from api.URL, conds ...string) (api.URL, a
 	case led.Kind == aim.Away:
 		return Find(t, led.Spec, folder, conds...)
 	}
-	return told(folder, led.URL), api.OK
+	return gate.Read(folder, led.URL), api.OK
 }
