@@ -85,6 +85,81 @@ func TestAsks(t *testing.T) { // P16.1
 	}
 }
 
+// plain is the chapter's way, part by part.
+func plain(s *tree.Tree, p string) (string, int, api.Errno) {
+	here, left, links := "/", strings.Split(p, "/"), 0
+	for len(left) > 0 {
+		part := left[0]
+		left = left[1:]
+		n, _ := s.Look(here)
+		switch {
+		case part == "" || part == ".":
+			continue
+		case n.Kind != api.Dir:
+			return "", 0, api.ErrNone
+		case part == "..":
+			if here = here[:strings.LastIndex(here, "/")]; here == "" {
+				here = "/"
+			}
+			continue
+		}
+		next, ok := s.Look(strings.TrimSuffix(here, "/") + "/" + part)
+		switch {
+		case !ok:
+			return "", 0, api.ErrNone
+		case next.Kind != api.Link:
+			here = next.Path
+			continue
+		case links == api.MaxLinks:
+			return "", 0, api.ErrLoop
+		}
+		links++
+		left = append(strings.Split(next.Data, "/"), left...)
+		if next.Data[0] == '/' {
+			here = "/"
+		}
+	}
+	n, _ := s.Look(here)
+	return here, n.Kind, api.OK
+}
+
+func TestLikeThePlainWay(t *testing.T) { // P16.1
+	s := some(t)
+	parts := []string{"a", "b", "f", "..", ".", "", "loop", "root", "up", "ab", "far", "none", "deep", "slash", "out", "..."}
+	var try func(p string, deep int)
+	try = func(p string, deep int) {
+		got, kind, code := link.Real(s, p)
+		if want, also, ok := plain(s, p); p != "" && (got != want || kind != also || code != ok) {
+			t.Errorf("Real(%q) = %q, %d, %d, want %q, %d, %d", p, got, kind, code, want, also, ok)
+		}
+		if deep > 0 {
+			for _, part := range parts {
+				try(p+"/"+part, deep-1)
+			}
+		}
+	}
+	try("", 4)
+}
+
+func TestLongNames(t *testing.T) { // P16.1
+	name := "/" + strings.Repeat("n", 127)
+	nodes := []api.Node{}
+	for i := 1; i <= 7; i++ {
+		nodes = append(nodes, dir(strings.Repeat(name, i)))
+	}
+	full := strings.Repeat(name, 7) + "/" + strings.Repeat("m", 127)
+	nodes = append(nodes, leaf(full), to("/l", full[1:]))
+	s, code := tree.New(nodes...)
+	if code != api.OK {
+		t.Fatal(code)
+	}
+	for p, want := range map[string]api.Errno{full: api.OK, full + "/": api.OK, full + "m": api.ErrNone, full + "/m": api.ErrNone, full + strings.Repeat("/", 99): api.OK, full + strings.Repeat("m", 999): api.ErrNone, "/l": api.OK, strings.Repeat(name, 7) + strings.Repeat("/..", 9) + "/l": api.OK, "/" + strings.Repeat("./", 2000) + full: api.OK} {
+		if _, _, code := link.Real(s, p); code != want {
+			t.Errorf("Real of %d bytes: %d", len(p), code)
+		}
+	}
+}
+
 func TestLeadsToItself(t *testing.T) { // P16.2
 	s := some(t)
 	parts := []string{"a", "b", "f", "..", ".", "", "x", "root", "up", "ab", "abs", "far", "self", "deep", "here", "slash", "dots", "out"}
