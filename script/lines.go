@@ -5,34 +5,33 @@ import (
 	"strings"
 
 	"gossamer/api"
+	"gossamer/play"
 )
 
-// form is what lines of a kind look like: their word, how many texts they have
-// at least and at most, and what they stand for: a node, a way of resolving, or
-// neither.
+// form is what lines of a kind look like: their word, and how many texts they
+// have at least and at most.
 type form struct {
 	word        string
 	least, most int
-	node, way   int
 }
 
 // of tells the form of a kind; one without a word, if there is no such kind.
 func of(kind int) form {
 	switch kind {
 	case KFile:
-		return form{word: "file", least: 2, most: 2, node: api.File}
+		return form{"file", 2, 2}
 	case KDir:
-		return form{word: "dir", least: 1, most: 1, node: api.Dir}
+		return form{"dir", 1, 1}
 	case KLink:
-		return form{word: "link", least: 2, most: 2, node: api.Link}
+		return form{"link", 2, 2}
 	case KMap:
-		return form{word: "map", least: 2, most: 2}
+		return form{"map", 2, 2}
 	case KHTML:
-		return form{word: "html", least: 2, most: 2, way: api.HTML}
+		return form{"html", 2, 2}
 	case KESM:
-		return form{word: "esm", least: 2, most: 2 + api.MaxConds, way: api.ESM}
+		return form{"esm", 2, 2 + api.MaxConds}
 	case KCJS:
-		return form{word: "cjs", least: 2, most: 2 + api.MaxConds, way: api.CJS}
+		return form{"cjs", 2, 2 + api.MaxConds}
 	}
 	return form{}
 }
@@ -51,7 +50,7 @@ func kindOf(word string) int {
 // of all else.
 func fits(l Line, asked bool) bool {
 	f := of(l.Kind)
-	return f.word != "" && len(l.Texts) >= f.least && len(l.Texts) <= f.most && !(asked && f.node != 0)
+	return f.word != "" && len(l.Texts) >= f.least && len(l.Texts) <= f.most && !(asked && play.Node(l.Kind) != 0)
 }
 
 // Show tells lines as bytes.
@@ -61,7 +60,7 @@ func Show(ls ...Line) ([]byte, api.Errno) {
 		if !fits(l, asked) {
 			return nil, api.ErrForm
 		}
-		asked = of(l.Kind).node == 0
+		asked = play.Node(l.Kind) == 0
 	}
 	if len(ls) > api.MaxOps {
 		return nil, api.ErrSize
@@ -96,7 +95,7 @@ func Parse(b []byte) ([]Line, int, api.Errno) {
 		if !ok || !fits(l, asked) {
 			return nil, number, api.ErrForm
 		}
-		asked = of(l.Kind).node == 0
+		asked = play.Node(l.Kind) == 0
 		ls = append(ls, l)
 		b = b[end+1:]
 	}
