@@ -34,6 +34,12 @@ func value(t *testing.T, s string) api.Value {
 func found(s string) aim.Led { return aim.Led{Kind: aim.Found, URL: s} }
 func away(s string) aim.Led  { return aim.Led{Kind: aim.Away, Spec: s} }
 
+func TestKinds(t *testing.T) { // P25.1
+	if aim.Undefined != 0 || aim.Nothing != 1 || aim.Found != 2 || aim.Away != 3 {
+		t.Error("the kinds have other numbers")
+	}
+}
+
 func TestBad(t *testing.T) { // P25.1
 	for _, s := range []string{"", ".", "..", "/", "a/", "/a", "a//b", "a/./b", "a/../b", "node_modules", "a/node_modules/b", "NODE_Modules", "%6eode%5Fmodules", "%2e", "%2E.", "a\\", "\\", "a\\..\\b", "a\\\\b", "a/%2E%2e", "%4E%4F%44%45%5F%4D%4F%44%55%4C%45%53", "a\\node_modules", "./", "a/."} {
 		if !aim.Bad(s) {

@@ -18,6 +18,10 @@ func TestRead(t *testing.T) {
 			t.Errorf("%.30s is read as %.30s", s, ushow.Show(got))
 		}
 	}
+	got := gate.Read(folder, "file:///p/q/a/"+long+"?b?c#d#e")
+	if got.Path[2] != "a" || got.Path[3] != long || got.Query != "b?c" || got.Fragment != "d#e" || !got.HasQuery || !got.HasFragment {
+		t.Errorf("%d parts, ?%s, #%s", len(got.Path), got.Query, got.Fragment)
+	}
 	gate.Read(api.URL{}, "")
 }
 

@@ -37,7 +37,7 @@ func TestMatch(t *testing.T) { // P24.2
 		}
 	}
 	for _, c := range [][2]string{
-		{"", ""}, {"a", "a"}, {"./a", "./a"}, {"*", ""}, {"./*", "./"}, {"./*", "."}, {"./*.js", "./.js"}, {"./*.js", "./a.ts"}, {"a*a", "aa"}, {"a*a", "a"}, {"a**", "abc"}, {"*a*", "bac"}, {"./*", "/a"}, {"ab*ab", "abab"}, {"ab*ab", "abxa"}, {"aba*aba", "ababa"}, {"./A*", "./ab"}, {"a*bc", "ab"},
+		{"", ""}, {"a", "a"}, {"a", "ab"}, {"", "a"}, {"./a", "./a/b"}, {"a**", "ab*"}, {"a*b*", "axb*"}, {"*a*", "b*a*"}, {"./a", "./a"}, {"*", ""}, {"./*", "./"}, {"./*", "."}, {"./*.js", "./.js"}, {"./*.js", "./a.ts"}, {"a*a", "aa"}, {"a*a", "a"}, {"a**", "abc"}, {"*a*", "bac"}, {"./*", "/a"}, {"ab*ab", "abab"}, {"ab*ab", "abxa"}, {"aba*aba", "ababa"}, {"./A*", "./ab"}, {"a*bc", "ab"},
 	} {
 		if got, ok := glob.Match(c[0], c[1]); got != "" || ok {
 			t.Errorf("Match(%q, %q) = %q, %v", c[0], c[1], got, ok)
@@ -52,7 +52,7 @@ func TestBest(t *testing.T) { // P24.2
 		ok           bool
 	}{
 		{[]string{"./*", "./a/*"}, "./a/b", "./a/*", "b", true}, {[]string{"./a/*", "./*"}, "./a/b", "./a/*", "b", true}, {[]string{"./*", "./*.js"}, "./b.js", "./*.js", "b", true}, {[]string{"./*.js", "./*"}, "./b.ts", "./*", "b.ts", true}, {[]string{"./a/*", "./*/b.js"}, "./a/b.js", "./a/*", "b.js", true},
-		{[]string{"./a*", "./a*"}, "./ab", "./a*", "b", true}, {[]string{"./*b", "./*c", "./*"}, "./bc", "./*c", "b", true}, {[]string{"*x", "*y"}, "axy", "*y", "ax", true}, {nil, "a", "", "", false}, {[]string{"a", "b**"}, "a", "", "", false}, {[]string{"./a*", "./a"}, "./a", "", "", false}, {[]string{"./*/x", "./*/y"}, "./q/z", "", "", false},
+		{[]string{"./a*", "./a*"}, "./ab", "./a*", "b", true}, {[]string{"./*b", "./*c", "./*"}, "./bc", "./*c", "b", true}, {[]string{"*x", "*y"}, "axy", "*y", "ax", true}, {nil, "a", "", "", false}, {[]string{"./a", "./"}, "./ab", "", "", false}, {[]string{"a", "b**"}, "a", "", "", false}, {[]string{"./a*", "./a"}, "./a", "", "", false}, {[]string{"./*/x", "./*/y"}, "./q/z", "", "", false},
 		{[]string{"./a*c", "./ab*"}, "./abc", "./ab*", "c", true}, {[]string{"*c", "*bc"}, "abc", "*bc", "a", true},
 	} {
 		if key, star, ok := glob.Best(c.keys, c.s); key != c.key || star != c.star || ok != c.ok {

@@ -20,7 +20,7 @@ func six(p ...uint16) api.Host {
 func TestSpecial(t *testing.T) { // P10.1, P10.2
 	for in, want := range map[string]api.Host{
 		"example.org": domain("example.org"), "EX%41mple.org": domain("example.org"), "%65%58": domain("ex"), "a.": domain("a."), ".": domain("."), "..": domain(".."), "a_b-c~!$&'()*+,;=\"`{}": domain("a_b-c~!$&'()*+,;=\"`{}"),
-		"xn-": domain("xn-"), "axn--b": domain("axn--b"), "1.2.3.4": four(0x01020304), "0x7F.1": four(0x7f000001), "%31": four(1), "1.2.3.4.": four(0x01020304), "7..": domain("7.."), "1.a": domain("1.a"), "a.0xg": domain("a.0xg"), "0X": four(0),
+		"xn-": domain("xn-"), "axn--b": domain("axn--b"), "1.2.3.4": four(0x01020304), "0x7F.1": four(0x7f000001), "%31": four(1), "1.2.3.4.": four(0x01020304), "7..": domain("7.."), "1.a": domain("1.a"), "a.0xg": domain("a.0xg"), "AZ.az": domain("az.az"), "a.xn-b": domain("a.xn-b"), "xn-.b": domain("xn-.b"), "axn--": domain("axn--"), "0X": four(0),
 		"[::1]": six(0, 0, 0, 0, 0, 0, 0, 1), "[1:2::3.4.5.6]": six(1, 2, 0, 0, 0, 0, 0x304, 0x506),
 	} {
 		if got, code := host.Parse(in, true); got != want || code != api.OK {

@@ -76,7 +76,7 @@ func TestUnder(t *testing.T) { // P20.2
 const whole = `{
 	"imports": {"a": "/a1", "b/": "/b1/", "n": null, "/p": "/p1", "/d/": "/d1/", "x:o/": "/o/", "s": "/s1", "http://\u00e9/": "/z/", "http://\u00e9": "/y", "x:e": "/e1"},
 	"scopes": {
-		"/s/": {"a": "/a2", "s": null, "b/x": "/bx2"}, "/s/t/": {"a": "/a3", "b/": "/b3/"}, "/s/t/f": {"a": "/a4"}, "/g": {"a": "/a5"}
+		"/s/": {"a": "/a2", "s": null, "b/x": "/bx2", "z": "/z2", "y/": "/"}, "/s/t/": {"a": "/a3", "b/": "/b3/", "z": null, "y/": "/y3/"}, "/s/t/f": {"a": "/a4"}, "/g": {"a": "/a5"}
 	}
 }`
 
@@ -84,7 +84,7 @@ func TestResolve(t *testing.T) { // P20.2
 	m := maps(t, whole, "http://h/")
 	for _, c := range []struct{ spec, base, want, key string }{
 		{"a", "http://h/r", "http://h/a1", "a"}, {"a", "http://h/s/r", "http://h/a2", "a"}, {"a", "http://h/s/t/r", "http://h/a3", "a"}, {"a", "http://h/s/t/f", "http://h/a4", "a"}, {"a", "http://h/s/t/f/g", "http://h/a3", "a"}, {"a", "http://h/s", "http://h/a1", "a"}, {"a", "http://h/g", "http://h/a5", "a"}, {"a", "http://h/g/x", "http://h/a1", "a"}, {"a", "data:", "http://h/a1", "a"},
-		{"b/x", "http://h/r", "http://h/b1/x", "b/x"}, {"b/x", "http://h/s/r", "http://h/bx2", "b/x"}, {"b/x", "http://h/s/t/r", "http://h/b3/x", "b/x"}, {"b/y", "http://h/s/r", "http://h/b1/y", "b/y"}, {"s", "http://h/r", "http://h/s1", "s"}, {"http://\u00e9/x", "http://h/", "http://h/z/x", "http://\u00e9/x"}, {"http://\u00e9", "http://h/", "http://h/y", "http://\u00e9"},
+		{"b/x", "http://h/r", "http://h/b1/x", "b/x"}, {"b/x", "http://h/s/r", "http://h/bx2", "b/x"}, {"b/x", "http://h/s/t/r", "http://h/b3/x", "b/x"}, {"b/y", "http://h/s/r", "http://h/b1/y", "b/y"}, {"s", "http://h/r", "http://h/s1", "s"}, {"z", "http://h/s/r", "http://h/z2", "z"}, {"http://\u00e9/x", "http://h/", "http://h/z/x", "http://\u00e9/x"}, {"http://\u00e9", "http://h/", "http://h/y", "http://\u00e9"},
 	} {
 		got, r, code := hres.Resolve(m, c.spec, base(t, c.base))
 		if want := (api.Record{Base: c.base, Spec: c.key}); got != c.want || r != want || code != api.OK {
@@ -106,7 +106,7 @@ func TestResolve(t *testing.T) { // P20.2
 		spec, base string
 		code       api.Errno
 	}{
-		{"c", "http://h/r", api.ErrBare}, {"", "http://h/r", api.ErrBare}, {"b", "http://h/r", api.ErrBare}, {"/p", "data:", api.ErrBare}, {"http://[", "http://h/r", api.ErrBare}, {"//", "http://h/", api.ErrBare}, {"n", "http://h/r", api.ErrNull}, {"s", "http://h/s/r", api.ErrNull}, {"s", "http://h/s/t/r", api.ErrNull}, {"b/../x", "http://h/r", api.ErrBack}, {"b/../x", "http://h/s/t/r", api.ErrBack},
+		{"c", "http://h/r", api.ErrBare}, {"", "http://h/r", api.ErrBare}, {"b", "http://h/r", api.ErrBare}, {"/p", "data:", api.ErrBare}, {"http://[", "http://h/r", api.ErrBare}, {"//", "http://h/", api.ErrBare}, {"n", "http://h/r", api.ErrNull}, {"s", "http://h/s/r", api.ErrNull}, {"s", "http://h/s/t/r", api.ErrNull}, {"z", "http://h/s/t/r", api.ErrNull}, {"y/../x", "http://h/s/t/r", api.ErrBack}, {"b/../x", "http://h/r", api.ErrBack}, {"b/../x", "http://h/s/t/r", api.ErrBack},
 		{"http://\u00e8/", "http://h/r", api.ErrHost}, {"//xn--a", "http://h/r", api.ErrHost}, {"b/http://\u00e9", "http://h/", api.ErrHost}, {"b/http://[", "http://h/", api.ErrURL}, {strings.Repeat("a", api.MaxBytes+1), "http://h/r", api.ErrSize}, {strings.Repeat("a", api.MaxBytes), "http://h/r", api.ErrBare}, {"\xff", "http://h/", api.ErrBare},
 	} {
 		if got, r, code := hres.Resolve(m, c.spec, base(t, c.base)); got != "" || r != (api.Record{}) || code != c.code {

@@ -21,6 +21,9 @@ func TestTokens(t *testing.T) { // P5.1
 	if !slices.Equal(got, want) || at != len(in) || code != api.OK {
 		t.Errorf("Tokens = %v, %d, %d", got, at, code)
 	}
+	if got, _, _ := jtok.Tokens([]byte("1:2,3}4{5]6[7\n8")); len(got) != 14 {
+		t.Errorf("signs between numbers: %v", got)
+	}
 	for _, in := range []string{"", " \t\n\r"} {
 		if got, at, code := jtok.Tokens([]byte(in)); len(got) != 0 || at != len(in) || code != api.OK {
 			t.Errorf("Tokens(%q) = %v, %d, %d", in, got, at, code)
@@ -30,7 +33,7 @@ func TestTokens(t *testing.T) { // P5.1
 
 func TestNumbersGoAsFarAsTheyGo(t *testing.T) { // P5.1
 	for in, want := range map[string][]string{
-		"0": {"0"}, "01": {"0", "1"}, "-0": {"-0"}, "-01": {"-0", "1"}, "00.5": {"0", "0.5"}, "120": {"120"}, "1.50": {"1.50"}, "1e5": {"1e5"}, "1E-07": {"1E-07"},
+		"0": {"0"}, "01": {"0", "1"}, "9": {"9"}, "-9.9e9": {"-9.9e9"}, "1.0203e4": {"1.0203e4"}, "-0": {"-0"}, "-01": {"-0", "1"}, "00.5": {"0", "0.5"}, "120": {"120"}, "1.50": {"1.50"}, "1e5": {"1e5"}, "1E-07": {"1E-07"},
 		"0e+0": {"0e+0"}, "1-2": {"1", "-2"}, "1e5-1": {"1e5", "-1"}, "0.0": {"0.0"}, "-1.0E1": {"-1.0E1"},
 	} {
 		toks, at, code := jtok.Tokens([]byte(in))
@@ -52,7 +55,7 @@ func TestStrings(t *testing.T) { // P5.1
 		``: "", `abc`: "abc", `\"\\\/\b\f\n\r\t`: "\"\\/\b\f\n\r\t", `\u0041\u00e9\u20AC`: "A\u00e9\u20ac", "\u20ac\U0001f600\x7f": "\u20ac\U0001f600\x7f",
 		`\ud83d\ude00`: "\U0001f600", `\uD83D\uDE00x`: "\U0001f600x", `\ud83d`: "\ufffd", `\ude00`: "\ufffd", `\ude00\ud83d`: "\ufffd\ufffd", `\ud83dx\ude00`: "\ufffdx\ufffd",
 		`\ud83d\ud83d\ude00`: "\ufffd\U0001f600", `\ud83d\n`: "\ufffd\n", `\ud83d\u0041`: "\ufffdA", `\ud800\udc00\udbff\udfff`: "\U00010000\U0010ffff", `\ud83d\ue000`: "\ufffd\ue000",
-		`\u0000`: "\x00", "x\u2028y": "x\u2028y", `\ud83d\ude00\ude00`: "\U0001f600\ufffd", `\udbff\udbff`: "\ufffd\ufffd", `a\nb\nc`: "a\nb\nc", "/": "/",
+		`\u0000`: "\x00", ` a b `: " a b ", `\udc00\udc00`: "\ufffd\ufffd", `\udbff\udc00`: "\U0010fc00", `\ud7ff\udc00`: "\ud7ff\ufffd", `\ud800\udfff`: "\U000103ff", `\uFFFF\uABCD\uabcd\uffff\u0F9f`: "\uffff\uabcd\uabcd\uffff\u0f9f", `!#[]^~`: "!#[]^~", "x\u2028y": "x\u2028y", `\ud83d\ude00\ude00`: "\U0001f600\ufffd", `\udbff\udbff`: "\ufffd\ufffd", `a\nb\nc`: "a\nb\nc", "/": "/",
 	} {
 		b := []byte(`"` + in + `"`)
 		got, at, code := jtok.Tokens(b)
@@ -72,7 +75,7 @@ func TestFaults(t *testing.T) { // P5.2
 		{"-", 1, api.ErrJSON}, {"-a", 1, api.ErrJSON}, {"1.", 2, api.ErrJSON}, {"1.e", 2, api.ErrJSON}, {"1e", 2, api.ErrJSON}, {"1e+", 3, api.ErrJSON}, {"1e-x", 3, api.ErrJSON}, {"-\xc3", 1, api.ErrUTF}, {"1.\xe2\x82", 2, api.ErrUTF},
 		{".5", 0, api.ErrJSON}, {"+1", 0, api.ErrJSON}, {"1e+\xf0\x90", 3, api.ErrUTF}, {"1x", 1, api.ErrJSON}, {"0x1", 1, api.ErrJSON},
 		{`"abc`, 4, api.ErrJSON}, {`"`, 1, api.ErrJSON}, {`"a\`, 3, api.ErrJSON}, {`"a\x"`, 3, api.ErrJSON}, {`"\u12g4"`, 5, api.ErrJSON}, {`"\u12`, 5, api.ErrJSON}, {`"\u"`, 3, api.ErrJSON}, {`"\U0041"`, 2, api.ErrJSON},
-		{"\"a\nb\"", 2, api.ErrJSON}, {"\"\x1f\"", 1, api.ErrJSON}, {"\"\x00\"", 1, api.ErrJSON}, {"\"a\xe2\x82\"", 2, api.ErrUTF}, {"\"\\\xff\"", 2, api.ErrUTF}, {"\"\\u\x80\"", 3, api.ErrUTF}, {"\"\\\u20ac\"", 2, api.ErrJSON}, {"\"\xed\xa0\x80\"", 1, api.ErrUTF},
+		{"\"a\nb\"", 2, api.ErrJSON}, {"\"\x80\"", 1, api.ErrUTF}, {"\"\xc2\"", 1, api.ErrUTF}, {`"\u00:0"`, 5, api.ErrJSON}, {`"\u00/0"`, 5, api.ErrJSON}, {`"\u00G0"`, 5, api.ErrJSON}, {`"\u00@0"`, 5, api.ErrJSON}, {`"\u00` + "`" + `0"`, 5, api.ErrJSON}, {"/1", 0, api.ErrJSON}, {"1/", 1, api.ErrJSON}, {"\"\x1f\"", 1, api.ErrJSON}, {"\"\x00\"", 1, api.ErrJSON}, {"\"a\xe2\x82\"", 2, api.ErrUTF}, {"\"\\\xff\"", 2, api.ErrUTF}, {"\"\\u\x80\"", 3, api.ErrUTF}, {"\"\\\u20ac\"", 2, api.ErrJSON}, {"\"\xed\xa0\x80\"", 1, api.ErrUTF},
 		{"\"\\u00\u20ac\"", 5, api.ErrJSON}, {`"\ud83d\u"`, 9, api.ErrJSON}, {`"\ud83d\uZ`, 9, api.ErrJSON}, {`"\ud83d\`, 8, api.ErrJSON}, {`"\ud83d\u12`, 11, api.ErrJSON}, {"\"\\ud83d\\u0\xff", 10, api.ErrUTF},
 		{"[1,\xff]", 3, api.ErrUTF}, {"\u20ac", 0, api.ErrJSON}, {"\ufeff1", 0, api.ErrJSON}, {"1 \x0b", 2, api.ErrJSON}, {"1\x00", 1, api.ErrJSON}, {"'a'", 0, api.ErrJSON}, {"//", 0, api.ErrJSON}, {"[} \x80", 3, api.ErrUTF}, {"\u00a0", 0, api.ErrJSON},
 	} {

@@ -148,12 +148,13 @@ func TestLongNames(t *testing.T) { // P16.1
 		nodes = append(nodes, dir(strings.Repeat(name, i)))
 	}
 	full := strings.Repeat(name, 7) + "/" + strings.Repeat("m", 127)
-	nodes = append(nodes, leaf(full), to("/l", full[1:]))
+	long := strings.Repeat("o", api.MaxPart)
+	nodes = append(nodes, leaf(full), to("/l", full[1:]), leaf("/"+long), to("/k", long))
 	s, code := tree.New(nodes...)
 	if code != api.OK {
 		t.Fatal(code)
 	}
-	for p, want := range map[string]api.Errno{full: api.OK, full + "/": api.OK, full + "m": api.ErrNone, full + "/m": api.ErrNone, full + strings.Repeat("/", 99): api.OK, full + strings.Repeat("m", 999): api.ErrNone, "/l": api.OK, strings.Repeat(name, 7) + strings.Repeat("/..", 9) + "/l": api.OK, "/" + strings.Repeat("./", 2000) + full: api.OK} {
+	for p, want := range map[string]api.Errno{full: api.OK, full + "/": api.OK, full + "m": api.ErrNone, full + "/m": api.ErrNone, full + strings.Repeat("/", 99): api.OK, full + strings.Repeat("m", 999): api.ErrNone, "/l": api.OK, "/k": api.OK, "/" + long: api.OK, "/./" + long: api.OK, "/./" + long + "o": api.ErrNone, strings.Repeat(name, 7) + strings.Repeat("/..", 9) + "/l": api.OK, "/" + strings.Repeat("./", 2000) + full: api.OK} {
 		if _, _, code := link.Real(s, p); code != want {
 			t.Errorf("Real of %d bytes: %d", len(p), code)
 		}

@@ -221,6 +221,19 @@ func TestLikeThePlainWay(t *testing.T) { // P21.2, P21.3
 	}
 }
 
+func TestUnsorted(t *testing.T) { // P21.2: all stand falling
+	a, b, c, d := api.Entry{Key: "a", To: "x:1"}, api.Entry{Key: "b", To: "x:2"}, api.Entry{Key: "c", To: "x:3"}, api.Entry{Key: "d", To: "x:4"}
+	old := api.Map{Imports: []api.Entry{a, c}, Integrity: []api.Entry{b, d}, Scopes: []api.Scope{{Prefix: "x:p"}, {Prefix: "x:r", Imports: []api.Entry{a, c}}}}
+	more := api.Map{Imports: []api.Entry{b, a, d}, Integrity: []api.Entry{a, b, c}, Scopes: []api.Scope{{Prefix: "x:q"}, {Prefix: "x:s"}, {Prefix: "x:p", Imports: []api.Entry{a, b}}}}
+	m, warnings := merge.Merge(old, more)
+	if got := told(m); got != " d=x:4 c=x:3 b=x:2 a=x:1 {x:s} {x:r c=x:3 a=x:1} {x:q} {x:p b=x:2 a=x:1} # d=x:4 c=x:3 b=x:2 a=x:1" {
+		t.Errorf("Merge = %q", got)
+	}
+	if got := warned(warnings); got != "8,,b;8,,a" {
+		t.Errorf("warnings %q", got)
+	}
+}
+
 func TestNothing(t *testing.T) {
 	m, warnings := merge.Merge(api.Map{}, api.Map{})
 	if told(m) != "" || len(warnings) != 0 || len(m.Imports)+len(m.Scopes)+len(m.Integrity) != 0 {

@@ -33,7 +33,7 @@ func TestNew(t *testing.T) { // P15.1
 	for i, nodes := range [][]api.Node{
 		{leaf("/a/b", "")}, {leaf("/a/b", ""), leaf("/a", "")}, {leaf("/a/b", ""), link("/a", "/")}, {dir("/a/b/c"), dir("/a")}, {leaf("/a", ""), leaf("/a", "")}, {dir("/a"), leaf("/a", "")}, {dir("/"), dir("/")}, {leaf("/", "")}, {link("/", "a")}, {{Path: "/", Kind: api.Dir, Data: "x"}},
 		{leaf("", "")}, {leaf("a", "")}, {dir("/a/")}, {dir("/a"), leaf("/a/..", "")}, {dir("/a"), leaf("/a//b", "")}, {leaf("/.", "")}, {leaf("/a\x00", "")}, {leaf("/"+name+"n", "")}, {{Path: "/a"}}, {{Path: "/a", Kind: 4}}, {{Path: "/a", Kind: -1}},
-		{{Path: "/a", Kind: api.Dir, Data: "x"}}, {link("/a", "")}, {link("/a", "x\x00")}, {link("/a", strings.Repeat("x", api.MaxPath+1))}, {leaf("/a", strings.Repeat("x", api.MaxBytes+1))},
+		{{Path: "/a", Kind: api.Dir, Data: "x"}}, {link("/a", "")}, {link("/a", "x\x00")}, {link("/a", "\x00x")}, {link("/a", "\x00")}, {dir("/a\x00b")}, {leaf("/\x00", "")}, {link("/a", strings.Repeat("x", api.MaxPath+1))}, {leaf("/a", strings.Repeat("x", api.MaxBytes+1))},
 		append(slices.Clone(deep), leaf(long+"/"+strings.Repeat("e", api.MaxPath-len(long)), "")),
 	} {
 		if got, code := tree.New(nodes...); got != nil || code != api.ErrTree {

@@ -102,12 +102,12 @@ func TestSpecial(t *testing.T) {
 }
 
 func TestScheme(t *testing.T) {
-	for s, want := range map[string][2]string{"http://h": {"http", "//h"}, "A+b-C.9:": {"a+b-c.9", ""}, "x:y:z": {"x", "y:z"}, "Z:": {"z", ""}} {
+	for s, want := range map[string][2]string{"http://h": {"http", "//h"}, "A+b-C.9:": {"a+b-c.9", ""}, "x:y:z": {"x", "y:z"}, "Z:": {"z", ""}, "AZaz09:": {"azaz09", ""}, "a0:": {"a0", ""}} {
 		if a, b, ok := url.Scheme(s); a != want[0] || b != want[1] || !ok {
 			t.Errorf("Scheme(%q) = %q, %q, %v", s, a, b, ok)
 		}
 	}
-	for _, s := range []string{"", ":", "a", "1a:", "+a:", "-:", ".:", "a b:", "a/b:", "a_b:", "\u00e9:", "a\u00e9:", "@:", "a@:", " a:", "[:", "a[:", "a`:", "a{:", "a~:"} {
+	for _, s := range []string{"", ":", "a", "1a:", "+a:", "-:", ".:", "a b:", "a/b:", "a_b:", "\u00e9:", "a\u00e9:", "@:", "a@:", " a:", "[:", "a[:", "a`:", "a{:", "a~:", "a,:", "a;:"} {
 		if a, b, ok := url.Scheme(s); a != "" || b != "" || ok {
 			t.Errorf("Scheme(%q) = %q, %q, %v", s, a, b, ok)
 		}
@@ -116,7 +116,7 @@ func TestScheme(t *testing.T) {
 
 func TestAhead(t *testing.T) { // sizes, blanks, what is gone
 	checkParse(t, [][2]string{
-		{" \x00\x1fhttp://h/\x1f \n", "http D=h 1[]"}, {"ht\ttp:\n//h\r/a\tb", "http D=h 1[ab]"}, {"x:\ta\n b ?", "x - (a b%20) ?"}, {"\th:o\t", "h - (o)"}, {"x:\x7f", "x - (%7F)"}, {"x: a", "x - ( a)"},
+		{" \x00\x1fhttp://h/\x1f \n", "http D=h 1[]"}, {"ht\ttp:\n//h\r/a\tb", "http D=h 1[ab]"}, {"x:\ta\n b ?", "x - (a b%20) ?"}, {"\th:o\t", "h - (o)"}, {"x:a\rb", "x - (ab)"}, {"x:a\nb", "x - (ab)"}, {"x:a\tb", "x - (ab)"}, {"x:!", "x - (!)"}, {"\x0bx:!\x0b", "x - (!)"}, {"x:\x7f", "x - (%7F)"}, {"x: a", "x - ( a)"},
 		{"x:\xe2\x82\n\xac", "x - (%EF%BF%BD%EF%BF%BD)"}, {"x:\xff", "x - (%EF%BF%BD)"}, {"x:\u00a0", "x - (%C2%A0)"},
 	})
 	if _, code := url.Parse("x:" + strings.Repeat("a", api.MaxBytes-2)); code != api.OK {
@@ -186,7 +186,7 @@ func TestQueriesAndFragments(t *testing.T) {
 
 func TestFiles(t *testing.T) {
 	checkParse(t, [][2]string{
-		{"file:", "file E 1[]"}, {"file:a", "file E 1[a]"}, {"file:/a", "file E 1[a]"}, {"file:///a", "file E 1[a]"}, {"file://", "file E 1[]"}, {"file://h", "file D=h 1[]"}, {"file://H/a", "file D=h 1[a]"}, {"file://LOCALhost/a", "file E 1[a]"}, {"file://%6cocalhost", "file E 1[]"}, {"file:////a", "file E 2[,a]"}, {"file:\\\\h\\a", "file D=h 1[a]"}, {"file:\\a", "file E 1[a]"},
+		{"file:", "file E 1[]"}, {"file:a", "file E 1[a]"}, {"file:a/b", "file E 2[a,b]"}, {"file:a//b", "file E 3[a,,b]"}, {"file:/a//b", "file E 3[a,,b]"}, {"file:/a", "file E 1[a]"}, {"file:///a", "file E 1[a]"}, {"file://", "file E 1[]"}, {"file://h", "file D=h 1[]"}, {"file://H/a", "file D=h 1[a]"}, {"file://LOCALhost/a", "file E 1[a]"}, {"file://%6cocalhost", "file E 1[]"}, {"file:////a", "file E 2[,a]"}, {"file:\\\\h\\a", "file D=h 1[a]"}, {"file:\\a", "file E 1[a]"},
 		{"file:c|/x", "file E 2[c:,x]"}, {"file:///C|", "file E 1[C:]"}, {"file://c:/x", "file E 2[c:,x]"}, {"file://C|", "file E 1[C:]"}, {"file://c|?q", "file E 1[c:] ?q"}, {"file:c:", "file E 1[c:]"}, {"file:/c|/../..", "file E 2[c:,]"}, {"file:///c:/../x", "file E 2[c:,x]"}, {"file:///a/../c|/x", "file E 2[c:,x]"}, {"file:///a/c|", "file E 2[a,c|]"}, {"file:///c|x", "file E 1[c|x]"}, {"file://h/c|/x", "file D=h 2[c:,x]"},
 		{"file:?q", "file E 1[] ?q"}, {"file:#f", "file E 1[] #f"}, {"file://1.2/", "file 4=01000002 1[]"}, {"file://[::1]/", "file 6=[0 0 0 0 0 0 0 1] 1[]"}, {"file:///..", "file E 1[]"}, {"file://?q", "file E 1[] ?q"}, {"file:///c:/..", "file E 2[c:,]"}, {"file:////c|", "file E 2[,c|]"},
 	})
@@ -202,7 +202,7 @@ func TestJoin(t *testing.T) {
 	checkJoin(t, "http://u:p@h:81/a/b?q#f", [][2]string{
 		{"", "http u:p@D=h:81 2[a,b] ?q"}, {"#g", "http u:p@D=h:81 2[a,b] ?q #g"}, {"?r", "http u:p@D=h:81 2[a,b] ?r"}, {"?r#g", "http u:p@D=h:81 2[a,b] ?r #g"}, {"c", "http u:p@D=h:81 2[a,c]"}, {"c?r#g", "http u:p@D=h:81 2[a,c] ?r #g"}, {".", "http u:p@D=h:81 2[a,]"}, {"..", "http u:p@D=h:81 1[]"}, {"../../..", "http u:p@D=h:81 1[]"}, {"./c/", "http u:p@D=h:81 3[a,c,]"},
 		{"/c", "http u:p@D=h:81 1[c]"}, {"\\c", "http u:p@D=h:81 1[c]"}, {"/", "http u:p@D=h:81 1[]"}, {"//g/c", "http D=g 1[c]"}, {"\\\\g", "http D=g 1[]"}, {"/\\/\\g", "http D=g 1[]"}, {"///g", "http D=g 1[]"}, {"http:c", "http u:p@D=h:81 2[a,c]"}, {"http:/c", "http u:p@D=h:81 1[c]"}, {"HTTP:", "http u:p@D=h:81 2[a,b] ?q"}, {"http:\\\\g", "http D=g 1[]"}, {"http://g", "http D=g 1[]"}, {"http:?r", "http u:p@D=h:81 2[a,b] ?r"},
-		{"https:c", "https D=c 1[]"}, {"https:/c", "https D=c 1[]"}, {"x:c", "x - (c)"}, {"x:/c", "x - 1[c]"}, {"x:", "x - ()"}, {"c:/d", "c - 1[d]"}, {" \t", "http u:p@D=h:81 2[a,b] ?q"}, {":c", "http u:p@D=h:81 2[a,:c]"}, {"a/b:c", "http u:p@D=h:81 3[a,a,b:c]"},
+		{"https:c", "https D=c 1[]"}, {"https:/c", "https D=c 1[]"}, {"x:c", "x - (c)"}, {"x:/c", "x - 1[c]"}, {"x:", "x - ()"}, {"c:/d", "c - 1[d]"}, {" \t", "http u:p@D=h:81 2[a,b] ?q"}, {":c", "http u:p@D=h:81 2[a,:c]"}, {"!c", "http u:p@D=h:81 2[a,!c]"}, {"c//d", "http u:p@D=h:81 4[a,c,,d]"}, {"/c//d", "http u:p@D=h:81 3[c,,d]"}, {"a/b:c", "http u:p@D=h:81 3[a,a,b:c]"},
 	})
 	checkJoin(t, "x://u:p@h:1/a/b?q#f", [][2]string{
 		{"", "x u:p@O=h:1 2[a,b] ?q"}, {"c", "x u:p@O=h:1 2[a,c]"}, {"\\c", "x u:p@O=h:1 2[a,\\c]"}, {"/c", "x u:p@O=h:1 1[c]"}, {"//g/c", "x O=g 1[c]"}, {"//", "x E 0[]"}, {"///c", "x E 1[c]"}, {"////c", "x E 2[,c]"}, {"x:c", "x - (c)"}, {"x:", "x - ()"}, {"http:c", "http D=c 1[]"}, {"#", "x u:p@O=h:1 2[a,b] ?q #"},

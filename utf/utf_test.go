@@ -50,6 +50,42 @@ func TestNextCountsWhatCouldBegin(t *testing.T) { // P1.1
 	}
 }
 
+// begins tells whether bytes could begin a code point.
+func begins(b []byte, more int) bool {
+	if r, n := utf8.DecodeRune(b); n == len(b) && (r != utf8.RuneError || n == 3) {
+		return true
+	}
+	if more > 0 {
+		for _, c := range []byte{0x80, 0x8f, 0x90, 0x9f, 0xa0, 0xbf} {
+			if begins(append(b[:len(b):len(b)], c), more-1) {
+				return true
+			}
+		}
+	}
+	return false
+}
+
+func TestNextByASecondReader(t *testing.T) { // P1.1
+	edges := []byte{0x00, 0x7f, 0x80, 0x8f, 0x90, 0x9f, 0xa0, 0xbf, 0xc0, 0xff}
+	for first := range 256 {
+		for _, second := range edges {
+			for _, third := range edges {
+				for _, fourth := range edges {
+					b := []byte{byte(first), second, third, fourth}
+					want, n := utf8.DecodeRune(b)
+					ok := want != utf8.RuneError || n == 3
+					for !ok && n < 4 && begins(b[:n+1:n+1], 3-n) {
+						n++
+					}
+					if r, m, also := utf.Next(b); r != want || m != n || also != ok {
+						t.Fatalf("Next(%x) = %x, %d, %v, want %x, %d, %v", b, r, m, also, want, n, ok)
+					}
+				}
+			}
+		}
+	}
+}
+
 func TestValidAndDecode(t *testing.T) { // P1.2
 	for in, want := range map[string][]rune{
 		"":                 nil,
@@ -77,7 +113,7 @@ func TestEncodeTellsBytes(t *testing.T) { // P1.2
 	if got := utf.Encode(0, 0x7f, 0x80, 0x7ff, 0x800, 0xffff, 0x10000, 0x10ffff); string(got) != "\x00\x7f\u0080\u07ff\u0800\uffff\U00010000\U0010ffff" {
 		t.Errorf("Encode = %x", got)
 	}
-	for _, r := range []rune{-1, -1 << 31, 0x110000, 1<<31 - 1, 0xd800, 0xdbff, 0xdc00, 0xdfff} {
+	for _, r := range []rune{-1, -1 << 31, 0x110000, 1<<31 - 1, 0xd800, 0xd801, 0xdbff, 0xdc00, 0xdffe, 0xdfff} {
 		if got := utf.Encode('a', r); string(got) != "a\ufffd" {
 			t.Errorf("Encode(%x) = %x", r, got)
 		}

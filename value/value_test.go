@@ -31,7 +31,7 @@ func TestWithin(t *testing.T) {
 	for range 3 {
 		v = api.Value{Kind: api.Array, L: []api.Value{{}, v}}
 	}
-	if value.Within(v, 2) || !value.Within(v, 3) {
+	if value.Within(v, 0) || value.Within(v, 1) || value.Within(v, 2) || !value.Within(v, 3) || !value.Within(v, value.Deepest) {
 		t.Error("three lists within one another")
 	}
 	ring := api.Value{Kind: api.Array, L: make([]api.Value, 2)}
