@@ -21,7 +21,7 @@ func (s *scanner) text() bool {
 	for s.at < len(s.b) {
 		switch c := s.b[s.at]; {
 		case c == '"':
-			s.put(api.TokString, begin, string(read)+string(s.b[from:s.at]))
+			s.put(api.TokString, begin, s.copy(read, from, s.at))
 			s.at++
 			return true
 		case c == '\\':
@@ -45,6 +45,17 @@ func (s *scanner) text() bool {
 		}
 	}
 	return false
+}
+
+// copy tells what was read, and what stands behind that, if it is to be kept.
+func (s *scanner) copy(read []byte, from int, to int) string {
+	switch {
+	case !s.keep:
+		return ""
+	case len(read) == 0:
+		return string(s.b[from:to])
+	}
+	return string(append(read, s.b[from:to]...))
 }
 
 // escape reads an escape, and tells the bytes that it stands for.

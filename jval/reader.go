@@ -12,9 +12,31 @@ const few = 8
 // reader goes through tokens. Where a method answers a code, at is the token
 // that is wrong.
 type reader struct {
-	toks []api.Tok
-	at   int
-	deep int
+	toks  []api.Tok
+	sizes []int
+	at    int
+	deep  int
+}
+
+// sizes tells for each bracket that opens how much stands within it at most:
+// room for long lists is made at once.
+func sizes(toks []api.Tok) []int {
+	all := make([]int, len(toks))
+	var open []int
+	for i, t := range toks {
+		switch t.Kind {
+		case api.TokOpen, api.TokFirst:
+			open = append(open, i)
+			all[i] = 1
+		case api.TokClose, api.TokLast:
+			open = open[:max(len(open)-1, 0)]
+		case api.TokComma:
+			if len(open) > 0 {
+				all[open[len(open)-1]]++
+			}
+		}
+	}
+	return all
 }
 
 // kind tells the token that comes; 0 at the end.
@@ -83,6 +105,7 @@ func (r *reader) array() (api.Value, api.Errno) {
 	if r.kind() == api.TokLast {
 		return r.single(v)
 	}
+	v.L = make([]api.Value, 0, r.sizes[r.at-1])
 	for {
 		one, code := r.value()
 		if code != api.OK {
@@ -105,6 +128,8 @@ func (r *reader) object() (api.Value, api.Errno) {
 	if r.kind() == api.TokClose {
 		return r.single(m.v)
 	}
+	m.v.K = make([]string, 0, r.sizes[r.at-1])
+	m.v.L = make([]api.Value, 0, r.sizes[r.at-1])
 	for {
 		key, one, code := r.member()
 		if code != api.OK {

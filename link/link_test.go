@@ -1,6 +1,7 @@
 package link_test
 
 import (
+	"math/rand"
 	"strconv"
 	"strings"
 	"testing"
@@ -139,6 +140,53 @@ func TestLikeThePlainWay(t *testing.T) { // P16.1
 		}
 	}
 	try("", 4)
+}
+
+func TestManyTrees(t *testing.T) { // P16.1
+	r := rand.New(rand.NewSource(16))
+	name := func() string {
+		return []string{"a", "b", "c", "dd", "..", ".", "", "/", "../", strings.Repeat("e", 255), strings.Repeat("f", 200)}[r.Intn(11)]
+	}
+	way := func(most int) string {
+		s := ""
+		for range 1 + r.Intn(most) {
+			s += name() + "/"
+		}
+		return strings.TrimRight(s, "/") + []string{"", "/"}[r.Intn(2)]
+	}
+	for range 2000 {
+		var nodes []api.Node
+		dirs := []string{""}
+		for range r.Intn(40) {
+			p := dirs[r.Intn(len(dirs))] + "/" + name()
+			switch r.Intn(4) {
+			case 0:
+				nodes = append(nodes, leaf(p))
+			case 1:
+				nodes = append(nodes, to(p, way(5)))
+			default:
+				nodes = append(nodes, dir(p))
+				dirs = append(dirs, p)
+			}
+			if _, code := tree.New(nodes...); code != api.OK {
+				nodes = nodes[:len(nodes)-1]
+				if n := len(dirs) - 1; n > 0 && dirs[n] == p {
+					dirs = dirs[:n]
+				}
+			}
+		}
+		s, code := tree.New(nodes...)
+		if code != api.OK {
+			t.Fatal(code)
+		}
+		for range 60 {
+			p := "/" + way(12)
+			got, kind, code := link.Real(s, p)
+			if want, also, ok := plain(s, p); got != want || kind != also || code != ok {
+				t.Fatalf("Real(%q) = %q, %d, %d, want %q, %d, %d", p, got, kind, code, want, also, ok)
+			}
+		}
+	}
 }
 
 func TestLongNames(t *testing.T) { // P16.1

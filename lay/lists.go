@@ -1,4 +1,4 @@
-package merge
+package lay
 
 import (
 	"slices"
@@ -27,9 +27,13 @@ func find[T any](l []T, name func(T) string, s string) (int, bool) {
 	return slices.BinarySearchFunc(l, s, func(one T, s string) int { return order.Compare(s, name(one)) })
 }
 
-// together tells two falling lists as one. The second one is often short: it is
-// the first one that must not be gone through name by name.
+// together tells two falling lists as one: the first one itself, if the second
+// one is empty. The second one is often short: it is the first one that must not
+// be gone through name by name.
 func together[T any](old []T, more []T, name func(T) string) []T {
+	if len(more) == 0 {
+		return old
+	}
 	all := make([]T, 0, len(old)+len(more))
 	for _, one := range more {
 		i, _ := find(old, name, name(one))
