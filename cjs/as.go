@@ -44,8 +44,8 @@ func As(t *tree.Tree, p string) (string, bool, api.Errno) {
 // file.
 func first(t *tree.Tree, p string, endings ...string) (string, bool) {
 	for _, ending := range endings {
-		if real, kind, _ := link.Real(t, p+ending); kind == api.File {
-			return real, true
+		if found, kind, _ := link.Real(t, p+ending); kind == api.File {
+			return found, true
 		}
 	}
 	return "", false
@@ -53,11 +53,11 @@ func first(t *tree.Tree, p string, endings ...string) (string, bool) {
 
 // mainOf tells the main file that a folder's package.json names, if it does.
 func mainOf(t *tree.Tree, folder string) (string, api.Errno) {
-	real, kind, _ := link.Real(t, folder+"/package.json")
+	p, kind, _ := link.Real(t, folder+"/package.json")
 	if kind != api.File {
 		return "", api.OK
 	}
-	n, _ := t.Look(real)
+	n, _ := t.Look(p)
 	says, code := pkg.Read([]byte(n.Data))
 	return says.Main, code
 }

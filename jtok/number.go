@@ -2,13 +2,13 @@ package jtok
 
 // IsNumber tells whether s, whole, is a number.
 func IsNumber(s string) bool {
-	end, ok := number(s, 0)
+	end, ok := number([]byte(s), 0)
 	return ok && end == len(s)
 }
 
 // number tells where the number that begins at a byte ends, as far as it goes;
 // if there is none, where a digit lacks, and false.
-func number[T string | []byte](b T, at int) (int, bool) {
+func number(b []byte, at int) (int, bool) {
 	if here(b, at) == '-' {
 		at++
 	}
@@ -50,7 +50,7 @@ lacking:
 
 // here is the byte that stands there; behind the end 0, which is part of no
 // number.
-func here[T string | []byte](b T, at int) byte {
+func here(b []byte, at int) byte {
 	if at < len(b) {
 		return b[at]
 	}
@@ -61,7 +61,7 @@ func isDigit(c byte) bool {
 	return c >= '0' && c <= '9'
 }
 
-func behindDigits[T string | []byte](b T, at int) int {
+func behindDigits(b []byte, at int) int {
 	for isDigit(here(b, at)) {
 		at++
 	}

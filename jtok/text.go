@@ -21,16 +21,18 @@ func (s *scanner) text() bool {
 	for s.at < len(s.b) {
 		switch c := s.b[s.at]; {
 		case c == '"':
-			s.put(api.TokString, begin, s.copy(read, from, s.at))
+			s.put(api.TokString, begin, s.kept(read, from, s.at))
 			s.at++
 			return true
 		case c == '\\':
-			read = append(read, s.b[from:s.at]...)
+			ahead := s.b[from:s.at]
 			more, ok := s.escape()
 			if !ok {
 				return false
 			}
-			read = append(read, more...)
+			if s.keep {
+				read = append(append(read, ahead...), more...)
+			}
 			from = s.at
 		case c < 0x20:
 			return false
@@ -47,8 +49,8 @@ func (s *scanner) text() bool {
 	return false
 }
 
-// copy tells what was read, and what stands behind that, if it is to be kept.
-func (s *scanner) copy(read []byte, from int, to int) string {
+// kept tells what was read, and what stands behind that, if it is to be kept.
+func (s *scanner) kept(read []byte, from int, to int) string {
 	switch {
 	case !s.keep:
 		return ""
