@@ -19,7 +19,8 @@ func far(r api.Record) bool {
 	return !r.URL || r.Special
 }
 
-// Falling tells a map with all of it falling: its own lists, if they are so.
+// Falling tells a map with all of it falling: its own lists of entries, if they
+// are so.
 func Falling(m api.Map) api.Map {
 	m.Imports, m.Integrity = falling(m.Imports, key), falling(m.Integrity, key)
 	m.Scopes = slices.Clone(falling(m.Scopes, prefix))

@@ -1,9 +1,12 @@
 package lay_test
 
 import (
+	"math/rand"
+	"slices"
 	"testing"
 
 	"gossamer/api"
+	"gossamer/hres"
 	"gossamer/lay"
 )
 
@@ -19,6 +22,30 @@ func TestBehind(t *testing.T) {
 	}
 	if len(old.Imports) != 1 || old.Imports[0].To != "x:1" {
 		t.Errorf("the old map is %v", old)
+	}
+}
+
+func TestUsed(t *testing.T) {
+	keys := []string{"a", "a/", "a/b", "a/b/", "a/b/c", "b/", "x:a/", "/"}
+	prefixes := []string{"", "x:", "x:/", "x:/a", "x:/a/", "x:/a/b/", "y:/"}
+	r := rand.New(rand.NewSource(18))
+	for range 3000 {
+		var rs []api.Record
+		for range r.Intn(12) {
+			spec := []string{"a", "a/", "a/b", "a/b/c", "a/b/d", "b/x", "x:a/b", "b"}[r.Intn(8)]
+			base := []string{"x:", "x:/", "x:/a", "x:/a/", "x:/a/b/c", "x:/ab", "y:/z"}[r.Intn(7)]
+			rs = append(rs, api.Record{Base: base, Spec: spec, URL: r.Intn(3) == 0, Special: r.Intn(2) == 0})
+		}
+		key, prefix := keys[r.Intn(len(keys))], prefixes[r.Intn(len(prefixes))]
+		want := slices.ContainsFunc(rs, func(r api.Record) bool { return lay.Uses(r, key) })
+		one := []api.Entry{{Key: key, To: "x:"}}
+		if _, warnings := lay.Behind(api.Map{}, api.Map{Imports: one}, rs); (len(warnings) == 1) != want {
+			t.Fatalf("%q by %v: %v", key, rs, warnings)
+		}
+		want = slices.ContainsFunc(rs, func(r api.Record) bool { return hres.Under(prefix, r.Base) && lay.Uses(r, key) })
+		if _, warnings := lay.Behind(api.Map{}, api.Map{Scopes: []api.Scope{{Prefix: prefix, Imports: one}}}, rs); (len(warnings) == 1) != want {
+			t.Fatalf("%q in %q by %v: %v", key, prefix, rs, warnings)
+		}
 	}
 }
 
