@@ -1,5 +1,7 @@
 package jtok
 
+import "gossamer/ascii"
+
 // IsNumber tells whether s, whole, is a number.
 func IsNumber(s string) bool {
 	end, ok := number([]byte(s), 0)
@@ -16,7 +18,7 @@ func number(b []byte, at int) (int, bool) {
 		at++
 		goto fraction
 	}
-	if !isDigit(here(b, at)) {
+	if !ascii.Digit(here(b, at)) {
 		goto lacking
 	}
 	at = behindDigits(b, at)
@@ -26,7 +28,7 @@ fraction:
 		goto exponent
 	}
 	at++
-	if !isDigit(here(b, at)) {
+	if !ascii.Digit(here(b, at)) {
 		goto lacking
 	}
 	at = behindDigits(b, at)
@@ -39,7 +41,7 @@ exponent:
 	if c := here(b, at); c == '+' || c == '-' {
 		at++
 	}
-	if !isDigit(here(b, at)) {
+	if !ascii.Digit(here(b, at)) {
 		goto lacking
 	}
 	return behindDigits(b, at), true
@@ -57,12 +59,8 @@ func here(b []byte, at int) byte {
 	return 0
 }
 
-func isDigit(c byte) bool {
-	return c >= '0' && c <= '9'
-}
-
 func behindDigits(b []byte, at int) int {
-	for isDigit(here(b, at)) {
+	for ascii.Digit(here(b, at)) {
 		at++
 	}
 	return at

@@ -2,6 +2,7 @@ package jtok
 
 import (
 	"gossamer/api"
+	"gossamer/ascii"
 	"gossamer/utf"
 )
 
@@ -99,11 +100,11 @@ func short(c byte) byte {
 func (s *scanner) unit() (rune, bool) {
 	unit := rune(0)
 	for range 4 {
-		d := hex(here(s.b, s.at))
+		d := ascii.Hex(here(s.b, s.at))
 		if d < 0 {
 			return 0, false
 		}
-		unit = unit<<4 | d
+		unit = unit<<4 | rune(d)
 		s.at++
 	}
 	return unit, true
@@ -124,16 +125,4 @@ func (s *scanner) point(unit rune) rune {
 		return unit
 	}
 	return beyond + (unit-firstHigh)<<10 + (low - firstLow)
-}
-
-func hex(c byte) rune {
-	switch {
-	case isDigit(c):
-		return rune(c - '0')
-	case c >= 'a' && c <= 'f':
-		return rune(c-'a') + 10
-	case c >= 'A' && c <= 'F':
-		return rune(c-'A') + 10
-	}
-	return -1
 }

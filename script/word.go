@@ -1,6 +1,10 @@
 package script
 
-const digits = "0123456789ABCDEF"
+import (
+	"strings"
+
+	"gossamer/ascii"
+)
 
 // Word tells a text so that it has no blank, and no line feed.
 func Word(s string) string {
@@ -10,7 +14,7 @@ func Word(s string) string {
 		if plain(c) {
 			b = append(b, c)
 		} else {
-			b = append(b, '%', digits[c>>4], digits[c&15])
+			b = append(b, '%', ascii.Upper[c>>4], ascii.Upper[c&15])
 		}
 	}
 	return string(b)
@@ -30,11 +34,11 @@ func Read(w string) (string, bool) {
 		if w[i] != '%' || i+2 >= len(w) {
 			return "", false
 		}
-		high, low := digit(w[i+1]), digit(w[i+2])
-		if high > 15 || low > 15 || plain(high<<4|low) {
+		high, low := strings.IndexByte(ascii.Upper, w[i+1]), strings.IndexByte(ascii.Upper, w[i+2])
+		if high < 0 || low < 0 || plain(byte(high<<4|low)) {
 			return "", false
 		}
-		b = append(b, high<<4|low)
+		b = append(b, byte(high<<4|low))
 		i += 2
 	}
 	return string(b), true
@@ -42,20 +46,5 @@ func Read(w string) (string, bool) {
 
 // plain tells whether a byte stands for itself.
 func plain(c byte) bool {
-	switch {
-	case c >= 'a' && c <= 'z', c >= 'A' && c <= 'Z', c >= '0' && c <= '9':
-		return true
-	}
-	return c == '-' || c == '.' || c == '_' || c == '~'
-}
-
-// digit tells the number of a digit as words have them; 16 of all else.
-func digit(c byte) byte {
-	switch {
-	case c >= '0' && c <= '9':
-		return c - '0'
-	case c >= 'A' && c <= 'F':
-		return c - 'A' + 10
-	}
-	return 16
+	return ascii.Letter(c) || ascii.Digit(c) || c == '-' || c == '.' || c == '_' || c == '~'
 }

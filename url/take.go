@@ -4,6 +4,7 @@ import (
 	"strings"
 
 	"gossamer/api"
+	"gossamer/ascii"
 	"gossamer/host"
 	"gossamer/pct"
 	"gossamer/segs"
@@ -90,7 +91,7 @@ func (r *reader) port(s string) api.Errno {
 	}
 	n := 0
 	for i := range len(s) {
-		if !digit(s[i]) {
+		if !ascii.Digit(s[i]) {
 			return api.ErrURL
 		}
 		n = min(n*10+int(s[i]-'0'), mostPort+1)
