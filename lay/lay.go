@@ -33,10 +33,7 @@ func Falling(m api.Map) api.Map {
 // Behind lays a map behind an old one that falls, but for what would turn what
 // was resolved. What it tells may share the old one's memory.
 func Behind(old api.Map, more api.Map, rs []api.Record) (api.Map, []api.Warning) {
-	var m merger
-	if len(more.Scopes)+len(more.Imports) > 0 {
-		m.used = index(rs)
-	}
+	m := merger{used: use(rs, more)}
 	var whole api.Map
 	whole.Scopes = m.scopes(old.Scopes, more.Scopes)
 	whole.Integrity = m.entries(old.Integrity, more.Integrity, never, "")

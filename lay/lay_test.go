@@ -3,6 +3,7 @@ package lay_test
 import (
 	"math/rand"
 	"slices"
+	"strconv"
 	"testing"
 
 	"gossamer/api"
@@ -39,6 +40,9 @@ func TestUsed(t *testing.T) {
 		key, prefix := keys[r.Intn(len(keys))], prefixes[r.Intn(len(prefixes))]
 		want := slices.ContainsFunc(rs, func(r api.Record) bool { return lay.Uses(r, key) })
 		one := []api.Entry{{Key: key, To: "x:"}}
+		for i := range r.Intn(2) * 20 {
+			one = append(one, api.Entry{Key: "z" + strconv.Itoa(i)})
+		}
 		if _, warnings := lay.Behind(api.Map{}, api.Map{Imports: one}, rs); (len(warnings) == 1) != want {
 			t.Fatalf("%q by %v: %v", key, rs, warnings)
 		}

@@ -10,9 +10,15 @@ import (
 	"gossamer/hres"
 )
 
+// few is how many keys are as fast held against all records, one by one, as the
+// records are put in order.
+const few = 16
+
 // used tells of records which keys they use. There may be many records, many
 // scopes, and many keys: to hold each against each would take too long.
 type used struct {
+	// plain has the records, if they are not put in order.
+	plain []api.Record
 	// exact has the bases of the records of a specifier, rising.
 	exact map[string][]string
 	// specs has the specifiers, rising, of the records for which keys that end
@@ -20,6 +26,18 @@ type used struct {
 	// order of specs, and each row of 2^n in the level n is rising.
 	specs  []string
 	levels [][]string
+}
+
+// use makes ready to be asked for the keys of a map.
+func use(rs []api.Record, m api.Map) used {
+	keys := len(m.Imports)
+	for _, s := range m.Scopes {
+		keys += len(s.Imports)
+	}
+	if keys <= few {
+		return used{plain: rs}
+	}
+	return index(rs)
 }
 
 func index(rs []api.Record) used {
@@ -57,7 +75,7 @@ func twice(bases []string, length int) []string {
 
 // any tells whether any record uses a key.
 func (u used) any(key string) bool {
-	if len(u.exact[key]) > 0 {
+	if len(u.exact[key]) > 0 || slices.ContainsFunc(u.plain, func(r api.Record) bool { return Uses(r, key) }) {
 		return true
 	}
 	from, to := u.beginning(key)
@@ -66,7 +84,7 @@ func (u used) any(key string) bool {
 
 // under tells whether a record uses a key, for whose base a prefix holds.
 func (u used) under(prefix string, key string) bool {
-	if holds(prefix, u.exact[key]) {
+	if holds(prefix, u.exact[key]) || slices.ContainsFunc(u.plain, func(r api.Record) bool { return Uses(r, key) && hres.Under(prefix, r.Base) }) {
 		return true
 	}
 	from, to := u.beginning(key)

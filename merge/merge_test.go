@@ -181,8 +181,16 @@ func TestLikeThePlainWay(t *testing.T) { // P21.2, P21.3
 	r := rand.New(rand.NewSource(21))
 	specs := []string{"a", "a/b", "a/b/c", "a/", "b/x", "x:a/b", "x:a/c", "/p/q", "/p/q/r", "./y", "\U0001f600", "http://g/z", "c", "d"}
 	bases := []string{"http://h/", "http://h/s", "http://h/s/", "http://h/s/t", "http://h/s/t/u", "http://g/", "x:", "data:"}
+	padding := api.Map{Scopes: []api.Scope{{Prefix: "http://h/s/"}, {Prefix: "z:"}}}
+	for i := range 9 {
+		padding.Imports = append(padding.Imports, api.Entry{Key: fmt.Sprintf("z%d", 9-i), To: "z:"})
+		padding.Scopes[1].Imports = append(padding.Scopes[1].Imports, api.Entry{Key: fmt.Sprintf("z%d", 9-i), To: "z:"})
+	}
 	for range 4000 {
 		old, more := some(t, r), some(t, r)
+		if r.Intn(2) == 0 {
+			more, _ = merge.Merge(more, padding)
+		}
 		var rs []api.Record
 		type asked struct{ spec, base, url string }
 		var all []asked
