@@ -8,28 +8,10 @@ import (
 
 	"gossamer/aim"
 	"gossamer/api"
-	"gossamer/jval"
+	"gossamer/made"
 	"gossamer/url"
 	"gossamer/ushow"
 )
-
-func parse(t *testing.T, s string) api.URL {
-	t.Helper()
-	u, code := url.Parse(s)
-	if code != api.OK {
-		t.Fatalf("%s: %d", s, code)
-	}
-	return u
-}
-
-func value(t *testing.T, s string) api.Value {
-	t.Helper()
-	v, _, code := jval.Parse([]byte(s))
-	if code != api.OK {
-		t.Fatalf("%s: %d", s, code)
-	}
-	return v
-}
 
 func found(s string) aim.Led { return aim.Led{Kind: aim.Found, URL: s} }
 func away(s string) aim.Led  { return aim.Led{Kind: aim.Away, Spec: s} }
@@ -62,17 +44,17 @@ func TestWithin(t *testing.T) { // P25.1
 		{"file:///p/", "file:///p//a", true}, {"file:///p/", "file:///p/a//", true}, {"file:///p/", "file:///p/a?q#f", true}, {"file:///p/", "file:///p/node_modules", false}, {"file:///p/", "file:///p/a/node_modules/b", false}, {"file:///p/", "file:///p/a/Node%5FModules/b", false}, {"file:///p/node_modules/q/", "file:///p/node_modules/q/a", true}, {"file:///p/node_modules/q/", "file:///p/node_modules/q/node_modules/a", false},
 		{"file:///p/", "file://h/p/a", false}, {"file://h/p/", "file://h/p/a", true}, {"file:///p/", "http://h/p/a", false}, {"http://h/p/", "http://h:81/p/a", false}, {"http://h/p/", "http://u@h/p/a", false}, {"http://h/p/", "http://:w@h/p/a", false}, {"http://h/p/", "https://h/p/a", false}, {"http://h/p/", "http://g/p/a", false}, {"http://u:w@h:81/p/", "http://u:w@h:81/p/a", true}, {"file:///a/b/", "file:///a/c/b/d", false}, {"file:///p/", "file:///p/a%2f..", true}, {"file:///p/", "file:///p/..%5c", true},
 	} {
-		if got := aim.Within(parse(t, c.folder), parse(t, c.u)); got != c.want {
+		if got := aim.Within(made.URL(c.folder), made.URL(c.u)); got != c.want {
 			t.Errorf("Within(%s, %s) = %v", c.folder, c.u, got)
 		}
 	}
-	u := parse(t, "file:///p/a")
+	u := made.URL("file:///p/a")
 	u.Path = []string{"p", ".."}
-	if aim.Within(parse(t, "file:///p/"), u) {
+	if aim.Within(made.URL("file:///p/"), u) {
 		t.Error("a part of dots leads out")
 	}
 	u.Path = []string{"p", "%2E"}
-	if aim.Within(parse(t, "file:///p/"), u) {
+	if aim.Within(made.URL("file:///p/"), u) {
 		t.Error("a part of a dot is none")
 	}
 	aim.Within(api.URL{}, api.URL{}) // R1
@@ -96,7 +78,7 @@ func TestTexts(t *testing.T) { // P25.2
 		{"file:///p/", "./../*", "..", true, false, aim.Led{}, api.ErrTarget}, {"file:///p*/", "./a", "x", true, false, aim.Led{}, api.ErrSpec}, {"file:///p*/", "./a", "*", true, false, found("file:///p*/a"), api.OK}, {"file:///p*/", "./a", "x", false, false, found("file:///p*/a"), api.OK},
 	} {
 		target := api.Value{Kind: api.String, S: c.target}
-		if got, code := aim.Resolve(parse(t, c.folder), target, c.star, c.has, c.inner); got != c.want || code != c.code {
+		if got, code := aim.Resolve(made.URL(c.folder), target, c.star, c.has, c.inner); got != c.want || code != c.code {
 			t.Errorf("Resolve(%s, %q, %q, %v, %v) = %v, %d", c.folder, c.target, c.star, c.has, c.inner, got, code)
 		}
 	}
@@ -119,23 +101,23 @@ func TestLists(t *testing.T) { // P25.2
 		{`[{"1":0},"./b"]`, nil, undefined, api.ErrConfig}, {`["q",{"1":0}]`, nil, undefined, api.ErrConfig}, {`[["q",null],"q",["./b"]]`, nil, b, api.OK}, {`[[],1]`, nil, undefined, api.ErrTarget}, {`[1,[]]`, nil, nothing, api.OK}, {`["./a",{"1":0}]`, nil, a, api.OK}, {`[{"default":"q"},{"default":null},{"x":1}]`, nil, nothing, api.OK},
 		{strings.Repeat("[", 128) + `"./a"` + strings.Repeat("]", 128), nil, a, api.OK},
 	} {
-		target := value(t, c.target)
-		if got, code := aim.Resolve(parse(t, "file:///p/"), target, "", false, false, c.conds...); got != c.want || code != c.code {
+		target := made.Value(c.target)
+		if got, code := aim.Resolve(made.URL("file:///p/"), target, "", false, false, c.conds...); got != c.want || code != c.code {
 			t.Errorf("Resolve(%.80s, %q) = %v, %d", c.target, c.conds, got, code)
 		}
 	}
-	spec := value(t, `["./*","./b"]`)
-	if got, code := aim.Resolve(parse(t, "file:///p/"), spec, "..", true, false); got != undefined || code != api.ErrSpec {
+	spec := made.Value(`["./*","./b"]`)
+	if got, code := aim.Resolve(made.URL("file:///p/"), spec, "..", true, false); got != undefined || code != api.ErrSpec {
 		t.Errorf("a wrong star in an array: %v, %d", got, code)
 	}
-	if got, code := aim.Resolve(parse(t, "file:///p/"), value(t, `[1,"q*","./b"]`), "x", true, true); got != away("qx") || code != api.OK {
+	if got, code := aim.Resolve(made.URL("file:///p/"), made.Value(`[1,"q*","./b"]`), "x", true, true); got != away("qx") || code != api.OK {
 		t.Errorf("away in an array: %v, %d", got, code)
 	}
 }
 
 func TestFoundIsWithin(t *testing.T) { // P25.3
 	parts := []string{".", "..", "/", "\\", "*", "a", "%2e", "node_modules", "\t", "?", "#", "%2f", ":", "c|"}
-	folder := parse(t, "file:///n/node_modules/p/")
+	folder := made.URL("file:///n/node_modules/p/")
 	stars := []string{"a", "..", "a/b", "/", "%2e", "\t..", "?", "#", "\\", "de_modules", "", "*"}
 	var try func(s string, deep int)
 	try = func(s string, deep int) {
@@ -160,7 +142,7 @@ func TestFoundIsWithin(t *testing.T) { // P25.3
 }
 
 func TestSizes(t *testing.T) { // R1, P25.2
-	folder := parse(t, "file:///p/")
+	folder := made.URL("file:///p/")
 	half := strings.Repeat("x", 1<<19)
 	stars := strings.Repeat("*", 1<<19)
 	if got, code := aim.Resolve(folder, api.Value{Kind: api.String, S: "./" + stars}, half, true, false); got != (aim.Led{}) || code != api.ErrSpec {
@@ -207,7 +189,7 @@ func TestRings(t *testing.T) { // R1
 
 func TestArgumentsStay(t *testing.T) { // R4
 	conds := append(make([]string, 0, 9), "x", "y")
-	aim.Resolve(parse(t, "file:///p/"), value(t, `{"x":["./a"]}`), "s", true, true, conds...)
+	aim.Resolve(made.URL("file:///p/"), made.Value(`{"x":["./a"]}`), "s", true, true, conds...)
 	if !slices.Equal(conds, []string{"x", "y"}) || slices.Contains(conds[:9], "default") {
 		t.Error("Resolve changed what was handed in")
 	}

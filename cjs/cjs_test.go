@@ -9,20 +9,10 @@ import (
 	"gossamer/esm"
 	"gossamer/file"
 	"gossamer/made"
-	"gossamer/tree"
 )
 
-func grown(t *testing.T, texts ...string) *tree.Tree {
-	t.Helper()
-	s, code := tree.New(made.Nodes(texts...)...)
-	if code != api.OK {
-		t.Fatalf("%q: %d", texts, code)
-	}
-	return s
-}
-
 func TestAs(t *testing.T) { // P29.1
-	s := grown(t, "/a=", "/a.js=", "/b.js=", "/b.json=", "/c.json=", "/c.node=", "/d.node=", "/e/index.js=", "/e/index.json=", "/f/index.json=", "/f/index.node=", "/g/index.node=", "/h/x=", "/l->a", "/m.js->b.json", "/i.js/x=", "/i.json=", "/loop->loop", "/loop.js=", "/z/.js=",
+	s := made.Tree("/a=", "/a.js=", "/b.js=", "/b.json=", "/c.json=", "/c.node=", "/d.node=", "/e/index.js=", "/e/index.json=", "/f/index.json=", "/f/index.node=", "/g/index.node=", "/h/x=", "/l->a", "/m.js->b.json", "/i.js/x=", "/i.json=", "/loop->loop", "/loop.js=", "/z/.js=",
 		`/p1/package.json={"main":"x"}`, "/p1/x=", "/p1/x.js=", "/p1/index.js=", `/p2/package.json={"main":"./x"}`, "/p2/x.js=", `/p3/package.json={"main":"x/"}`, "/p3/x/index.json=", `/p4/package.json={"main":"gone"}`, "/p4/index.node=", `/p5/package.json={"main":"gone"}`, `/p6/package.json={"main":""}`, "/p6/index.js=", `/p7/package.json={"main":""}`, `/p8/package.json={`, "/p8/index.js=", `/p9/package.json={"main":1}`, "/p9/index.json=",
 		`/q1/package.json={"main":"../a"}`, `/q2/package.json={"main":"x"}`, "/q2/x.node=", "/q2/x/index.js=", "/q2/x.json=", `/q3/package.json={"main":"x"}`, "/q3/x/index.node=", "/q4/package.json->../p1/package.json", "/q4/x=", "/q5/package.json/x=", "/q5/index.js=", "/q6.js=", "/q6/package.json={", `/q7/package.json={"main":"x"}`, "/q7/x/package.json={\"main\":\"y\"}", "/q7/x/y=", `/q8/package.json={"main":"/a"}`, "/q8/a=", `/q9/package.json={"exports":"./z","name":"q9"}`, "/q9/index.js=", "/q9/z=", "/ln->p1", "/r1/package.json={}", "/r1/.js=", `/r2/package.json={"main":"x"}`, "/r2/x.node=", `/r3/package.json={"main":"x"}`, "/r3/x/index.json=", "/r3/xindex.json=", `/r4/package.json={"main":"x"}`, "/r4/x/index.js=", "/r4/x/index.json=", `/r5/package.json={"main":"x"}`, "/r5/x.json=", "/r5/x.node=", `/r6/package.json={"main":"x"}`, "/r6/index.json=", "/r6/index.node=")
 	for p, want := range map[string]string{
@@ -49,7 +39,7 @@ func TestAs(t *testing.T) { // P29.1
 }
 
 func TestResolve(t *testing.T) { // P29.2
-	s := grown(t, "/x.js=", "/d/index.js=", "/d/e.js=", "/d/f/g.js=", "/index.json=", "/a b%.js=", "/x\\y/node_modules/k/index.js=", "/x\\y/z.js=",
+	s := made.Tree("/x.js=", "/d/index.js=", "/d/e.js=", "/d/f/g.js=", "/index.json=", "/a b%.js=", "/x\\y/node_modules/k/index.js=", "/x\\y/z.js=",
 		"/n/node_modules/p/index.js=", "/n/node_modules/p/sub.js=", "/n/node_modules/single.js=", `/n/node_modules/m/package.json={"main":"lib"}`, "/n/node_modules/m/lib/index.js=", `/n/node_modules/e/package.json={"main":"x","exports":{".":"./m.js","./*":{"c":"./c/*.js","default":"./d/*.js"},"./dir":"./c","./http":"./%2f"}}`, "/n/node_modules/e/m.js=", "/n/node_modules/e/c/x.js=", "/n/node_modules/e/x=", "/n/node_modules/bad/package.json={", "/n/node_modules/bad/index.js=", `/n/node_modules/gone/package.json={"main":"gone"}`, "/n/node_modules/@s/t/index.js=", "/n/node_modules/file=", "/n/node_modules/l->../../d", "/n/node_modules/empty/x=", "/n/node_modules/node_modules/k/index.js=", "/n/node_modules/q/node_modules/r/index.js=", "/n/node_modules/q/x.js=", "/n/node_modules/a%b/c.js=", "/n/node_modules/.dot/index.js=",
 		"/node_modules/p/index.js=", "/node_modules/top/index.js=", "/node_modules/empty/index.js=", "/node_modules/dir/index.js=", `/node_modules/np/package.json={"exports":null,"main":"y"}`, "/node_modules/np/y=", "/m/node_modules->../n/node_modules", "/f/node_modules=",
 		`/s/package.json={"name":"self","exports":{".":"./i.js","./n":null,"./gone":"./gone.js"},"imports":{"#i":"./i.js","#p":"p","#u":"u","#d":"./dir"}}`, "/s/i.js=", "/s/dir/x=", "/s/x/y.js=", "/s/node_modules/p/package.json={\"main\":\"m.js\"}", "/s/node_modules/p/m.js=", `/s/node_modules/u/package.json={"main":"http://h/"}`, "/s/node_modules/self/index.js=", "/t/package.json=[", "/t/node_modules/p/index.js=", "/v/package.json={\"name\":\"self\"}", `/w/package.json={"name":"","exports":"./i.js"}`, "/w/i.js=", "/v/node_modules/self/index.js=")
@@ -93,7 +83,7 @@ func TestLooks(t *testing.T) { // P29.3
 	for i := 0; i <= len(deep); i += 2 {
 		texts = append(texts, deep[:i]+"/node_modules/far/package.json={\"main\":\"\"}")
 	}
-	s := grown(t, texts...)
+	s := made.Tree(texts...)
 	for _, from := range []string{"/x.js", deep + "/a.js", deep + deep + "/x", "/n/d/x", strings.Repeat("/x", 30000), "/x\\y/z"} {
 		for _, spec := range []string{"#a", "#b", "#c", "p", "far", "far/x", "last", "missing/x", "@a/b", "s", "/loop", "/x", "/n/a.js", ".." + deep, "./a.js", "./gone", deep, "a%b"} {
 			was := s.Asked()
@@ -107,7 +97,7 @@ func TestLooks(t *testing.T) { // P29.3
 }
 
 func TestLongTexts(t *testing.T) { // time
-	s := grown(t, "/a/node_modules/p/index.js=", "/a/a/node_modules/q=", "/a/a/a/node_modules/x=")
+	s := made.Tree("/a/node_modules/p/index.js=", "/a/a/node_modules/q=", "/a/a/a/node_modules/x=")
 	for _, spec := range []string{strings.Repeat("p/", api.MaxBytes/2), "p" + strings.Repeat("/.", api.MaxBytes/2-1), "./" + strings.Repeat("../", api.MaxBytes/3-1), strings.Repeat("/", api.MaxBytes)} {
 		cjs.Resolve(s, spec, strings.Repeat("/a", 100000))
 	}

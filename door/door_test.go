@@ -8,7 +8,7 @@ import (
 	"gossamer/aim"
 	"gossamer/api"
 	"gossamer/door"
-	"gossamer/jval"
+	"gossamer/made"
 	"gossamer/url"
 )
 
@@ -19,15 +19,6 @@ func folder(t *testing.T) api.URL {
 		t.Fatal(code)
 	}
 	return u
-}
-
-func value(t *testing.T, s string) api.Value {
-	t.Helper()
-	v, _, code := jval.Parse([]byte(s))
-	if code != api.OK {
-		t.Fatalf("%s: %d", s, code)
-	}
-	return v
 }
 
 func found(s string) aim.Led { return aim.Led{Kind: aim.Found, URL: "file:///p/" + s} }
@@ -48,11 +39,11 @@ func TestPick(t *testing.T) { // P26.1
 		{"./a*", `{"./a*":"./x"}`, found("x"), api.OK}, {"./a*", `{"./b":"./x"}`, undefined, api.OK}, {"./a*", `{"./*":"./x/*"}`, found("x/a*"), api.OK}, {"./a**", `{"./a*":"./x/*"}`, found("x/**"), api.OK}, {"./*", `{"./*":"./x/*"}`, found("x/*"), api.OK}, {"./a", `{"./a*":"./x*"}`, undefined, api.OK}, {"./..", `{"./*":"./x/*"}`, undefined, api.ErrSpec}, {"./a.js", `{"./*.js":"./x/*.mjs","./*":null}`, found("x/a.mjs"), api.OK}, {"./a", `{"./*":"./*/*.js"}`, found("a/a.js"), api.OK}, {"./a*b", `{"./a*b":"./x","./a**":"./y"}`, found("x"), api.OK}, {"./a**", `{"./a**":"./x"}`, undefined, api.OK}, {"./z", `{"":"./x"}`, undefined, api.OK},
 		{"", `{"":"./x"}`, found("x"), api.OK}, {"#a", `{"#a":"q"}`, undefined, api.ErrTarget}, {"./a", `{"./a":["q","./x"]}`, found("x"), api.OK},
 	} {
-		if got, code := door.Pick(folder(t), c.key, value(t, c.in), false, "c"); got != c.want || code != c.code {
+		if got, code := door.Pick(folder(t), c.key, made.Value(c.in), false, "c"); got != c.want || code != c.code {
 			t.Errorf("Pick(%q, %s) = %v, %d", c.key, c.in, got, code)
 		}
 	}
-	if got, code := door.Pick(folder(t), "#a/b", value(t, `{"#a/*":"q/*"}`), true); got != away("q/b") || code != api.OK {
+	if got, code := door.Pick(folder(t), "#a/b", made.Value(`{"#a/*":"q/*"}`), true); got != away("q/b") || code != api.OK {
 		t.Errorf("Pick of imports: %v, %d", got, code)
 	}
 }
@@ -62,7 +53,7 @@ func TestExports(t *testing.T) { // P26.2
 		{".", `"./m.js"`, found("m.js"), api.OK}, {".", `["q","./m.js"]`, found("m.js"), api.OK}, {".", `{"c":"./c.js","default":"./d.js"}`, found("c.js"), api.OK}, {".", `{".":"./m.js"}`, found("m.js"), api.OK}, {".", `{"./a":"./x",".":{"c":"./m.js"}}`, found("m.js"), api.OK}, {".", `{"default":{"default":"./m.js"}}`, found("m.js"), api.OK}, {".", `{".":["q",null,"./m.js"]}`, found("m.js"), api.OK}, {".", `{".":"./*"}`, found("*"), api.OK},
 		{"./x", `{"./*":"./l/*.js"}`, found("l/x.js"), api.OK}, {"./a", `{"./a":"./x",".":"./m"}`, found("x"), api.OK}, {"./package.json", `{"./package.json":"./package.json"}`, found("package.json"), api.OK}, {".x", `{".x":"./x"}`, found("x"), api.OK},
 	} {
-		if got, code := door.Exports(folder(t), c.key, value(t, c.in), "c"); got != c.want || code != c.code {
+		if got, code := door.Exports(folder(t), c.key, made.Value(c.in), "c"); got != c.want || code != c.code {
 			t.Errorf("Exports(%q, %s) = %v, %d", c.key, c.in, got, code)
 		}
 	}
@@ -72,7 +63,7 @@ func TestExports(t *testing.T) { // P26.2
 		{".", `{".":"./m.js","c":"./x"}`, aim.Led{}, api.ErrConfig}, {"./a", `{"./a":"./x","c":"./x"}`, aim.Led{}, api.ErrConfig}, {"./a/", `{"":1,".":1}`, aim.Led{}, api.ErrConfig},
 		{"./x", `"./m.js"`, aim.Led{}, api.ErrExports}, {"./x", `["./m.js"]`, aim.Led{}, api.ErrExports}, {"./x", `{"default":"./x"}`, aim.Led{}, api.ErrExports}, {"./x", `{}`, aim.Led{}, api.ErrExports}, {"./x", `null`, aim.Led{}, api.ErrExports}, {"./x", `{"./y":"./x"}`, aim.Led{}, api.ErrExports}, {"./x", `{"./x":null}`, aim.Led{}, api.ErrExports}, {"./x", `{"./x":{"z":"./x"}}`, aim.Led{}, api.ErrExports}, {"./x/", `{"./x/":"./x"}`, aim.Led{}, api.ErrExports}, {"./x", `{"./x":"x"}`, aim.Led{}, api.ErrTarget}, {"./..", `{"./*":"./x/*"}`, aim.Led{}, api.ErrSpec}, {"x", `{"x":"./x"}`, aim.Led{}, api.ErrExports},
 	} {
-		if got, code := door.Exports(folder(t), c.key, value(t, c.in), "c"); got != c.want || code != c.code {
+		if got, code := door.Exports(folder(t), c.key, made.Value(c.in), "c"); got != c.want || code != c.code {
 			t.Errorf("Exports(%q, %s) = %v, %d", c.key, c.in, got, code)
 		}
 	}
@@ -85,7 +76,7 @@ func TestImports(t *testing.T) { // P26.3
 		{"#a", `{}`, aim.Led{}, api.ErrImports}, {"#a", `{"#b":"./x"}`, aim.Led{}, api.ErrImports}, {"#a", `{"#a":null}`, aim.Led{}, api.ErrImports}, {"#a", `{"#a":{"z":"./x"}}`, aim.Led{}, api.ErrImports}, {"#a/", `{"#a/":"./x"}`, aim.Led{}, api.ErrImports}, {"#a", `[]`, aim.Led{}, api.ErrImports}, {"#a", `null`, aim.Led{}, api.ErrImports}, {"#a", `{"#a":[]}`, aim.Led{}, api.ErrImports},
 		{"#a", `{"#a":"../q"}`, aim.Led{}, api.ErrTarget}, {"#a", `{"#a":"/q"}`, aim.Led{}, api.ErrTarget}, {"#a", `{"#a":"x:q"}`, aim.Led{}, api.ErrTarget}, {"#a", `{"#a":1}`, aim.Led{}, api.ErrTarget}, {"#a", `{"#a":{"3":"q"}}`, aim.Led{}, api.ErrConfig}, {"#a/..", `{"#a/*":"./x/*"}`, aim.Led{}, api.ErrSpec},
 	} {
-		if got, code := door.Imports(folder(t), c.key, value(t, c.in), "c"); got != c.want || code != c.code {
+		if got, code := door.Imports(folder(t), c.key, made.Value(c.in), "c"); got != c.want || code != c.code {
 			t.Errorf("Imports(%q, %s) = %v, %d", c.key, c.in, got, code)
 		}
 	}
@@ -106,7 +97,7 @@ func TestMany(t *testing.T) { // time
 		b.WriteString(`,"./a` + strconv.Itoa(i) + `/*":"./*"`)
 	}
 	b.WriteString("}")
-	v := value(t, b.String())
+	v := made.Value(b.String())
 	for range 50 {
 		if got, code := door.Exports(folder(t), "./a19999/x", v); got != found("x") || code != api.OK {
 			t.Fatalf("%v, %d", got, code)

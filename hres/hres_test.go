@@ -7,27 +7,8 @@ import (
 
 	"gossamer/api"
 	"gossamer/hres"
-	"gossamer/imap"
-	"gossamer/url"
+	"gossamer/made"
 )
-
-func base(t *testing.T, s string) api.URL {
-	t.Helper()
-	u, code := url.Parse(s)
-	if code != api.OK {
-		t.Fatalf("%s: %d", s, code)
-	}
-	return u
-}
-
-func maps(t *testing.T, s string, by string) api.Map {
-	t.Helper()
-	m, _, _, code := imap.Parse([]byte(s), base(t, by))
-	if code != api.OK {
-		t.Fatalf("%s: %d", s, code)
-	}
-	return m
-}
 
 func to(key, to string) api.Entry { return api.Entry{Key: key, To: to} }
 func none(key string) api.Entry   { return api.Entry{Key: key, None: true} }
@@ -81,12 +62,12 @@ const whole = `{
 }`
 
 func TestResolve(t *testing.T) { // P20.2
-	m := maps(t, whole, "http://h/")
+	m := made.Map(whole, "http://h/")
 	for _, c := range []struct{ spec, base, want, key string }{
 		{"a", "http://h/r", "http://h/a1", "a"}, {"a", "http://h/s/r", "http://h/a2", "a"}, {"a", "http://h/s/t/r", "http://h/a3", "a"}, {"a", "http://h/s/t/f", "http://h/a4", "a"}, {"a", "http://h/s/t/f/g", "http://h/a3", "a"}, {"a", "http://h/s", "http://h/a1", "a"}, {"a", "http://h/g", "http://h/a5", "a"}, {"a", "http://h/g/x", "http://h/a1", "a"}, {"a", "data:", "http://h/a1", "a"},
 		{"b/x", "http://h/r", "http://h/b1/x", "b/x"}, {"b/x", "http://h/s/r", "http://h/bx2", "b/x"}, {"b/x", "http://h/s/t/r", "http://h/b3/x", "b/x"}, {"b/y", "http://h/s/r", "http://h/b1/y", "b/y"}, {"s", "http://h/r", "http://h/s1", "s"}, {"z", "http://h/s/r", "http://h/z2", "z"}, {"http://\u00e9/x", "http://h/", "http://h/z/x", "http://\u00e9/x"}, {"http://\u00e9", "http://h/", "http://h/y", "http://\u00e9"},
 	} {
-		got, r, code := hres.Resolve(m, c.spec, base(t, c.base))
+		got, r, code := hres.Resolve(m, c.spec, made.URL(c.base))
 		if want := (api.Record{Base: c.base, Spec: c.key}); got != c.want || r != want || code != api.OK {
 			t.Errorf("Resolve(%q, %q) = %q, %v, %d", c.spec, c.base, got, r, code)
 		}
@@ -97,7 +78,7 @@ func TestResolve(t *testing.T) { // P20.2
 	}{
 		{"./p", "http://h/r", "http://h/p1", "http://h/p", true}, {"../p", "http://h/q/r", "http://h/p1", "http://h/p", true}, {"HTTP://h:80/d/e", "http://h/r", "http://h/d1/e", "http://h/d/e", true}, {"/d", "http://h/r", "http://h/d", "http://h/d", true}, {"x:o/p", "http://h/r", "x:o/p", "x:o/p", false}, {"x:o/", "http://h/r", "http://h/o/", "x:o/", false}, {"x:e", "http://h/r", "http://h/e1", "x:e", false}, {"x:f", "data:", "x:f", "x:f", false}, {"file:a", "http://h/r", "file:///a", "file:///a", true}, {"/p", "http://g/", "http://g/p", "http://g/p", true},
 	} {
-		got, r, code := hres.Resolve(m, c.spec, base(t, c.base))
+		got, r, code := hres.Resolve(m, c.spec, made.URL(c.base))
 		if want := (api.Record{Base: c.base, Spec: c.key, URL: true, Special: c.special}); got != c.want || r != want || code != api.OK {
 			t.Errorf("Resolve(%q, %q) = %q, %v, %d", c.spec, c.base, got, r, code)
 		}
@@ -109,14 +90,14 @@ func TestResolve(t *testing.T) { // P20.2
 		{"c", "http://h/r", api.ErrBare}, {"", "http://h/r", api.ErrBare}, {"b", "http://h/r", api.ErrBare}, {"/p", "data:", api.ErrBare}, {"http://[", "http://h/r", api.ErrBare}, {"//", "http://h/", api.ErrBare}, {"n", "http://h/r", api.ErrNull}, {"s", "http://h/s/r", api.ErrNull}, {"s", "http://h/s/t/r", api.ErrNull}, {"z", "http://h/s/t/r", api.ErrNull}, {"y/../x", "http://h/s/t/r", api.ErrBack}, {"b/../x", "http://h/r", api.ErrBack}, {"b/../x", "http://h/s/t/r", api.ErrBack},
 		{"http://\u00e8/", "http://h/r", api.ErrHost}, {"//xn--a", "http://h/r", api.ErrHost}, {"b/http://\u00e9", "http://h/", api.ErrHost}, {"b/http://[", "http://h/", api.ErrURL}, {strings.Repeat("a", api.MaxBytes+1), "http://h/r", api.ErrSize}, {strings.Repeat("a", api.MaxBytes), "http://h/r", api.ErrBare}, {"\xff", "http://h/", api.ErrBare},
 	} {
-		if got, r, code := hres.Resolve(m, c.spec, base(t, c.base)); got != "" || r != (api.Record{}) || code != c.code {
+		if got, r, code := hres.Resolve(m, c.spec, made.URL(c.base)); got != "" || r != (api.Record{}) || code != c.code {
 			t.Errorf("Resolve(%.20q, %q) = %q, %v, %d", c.spec, c.base, got, r, code)
 		}
 	}
-	if got, r, code := hres.Resolve(maps(t, `{"imports": {"b/": "/lib/"}}`, "http://h/"), "b/../c", base(t, "http://h/")); got != "" || r != (api.Record{}) || code != api.ErrBack {
+	if got, r, code := hres.Resolve(made.Map(`{"imports": {"b/": "/lib/"}}`, "http://h/"), "b/../c", made.URL("http://h/")); got != "" || r != (api.Record{}) || code != api.ErrBack {
 		t.Errorf("b/../c: %q, %v, %d", got, r, code)
 	}
-	if got, _, code := hres.Resolve(api.Map{}, "./x", base(t, "http://h/a/b")); got != "http://h/a/x" || code != api.OK {
+	if got, _, code := hres.Resolve(api.Map{}, "./x", made.URL("http://h/a/b")); got != "http://h/a/x" || code != api.OK {
 		t.Errorf("by no map: %q, %d", got, code)
 	}
 }
@@ -128,8 +109,8 @@ func TestMany(t *testing.T) { // time
 		b.WriteString(`,"k` + strconv.Itoa(i) + `/":"/"`)
 	}
 	b.WriteString("}}")
-	m := maps(t, b.String(), "http://h/")
-	by := base(t, "http://h/")
+	m := made.Map(b.String(), "http://h/")
+	by := made.URL("http://h/")
 	for i := range 500 {
 		if got, _, code := hres.Resolve(m, "k"+strconv.Itoa(i)+"/x", by); got != "http://h/x" || code != api.OK {
 			t.Fatalf("%q, %d", got, code)

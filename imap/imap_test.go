@@ -9,17 +9,8 @@ import (
 
 	"gossamer/api"
 	"gossamer/imap"
-	"gossamer/url"
+	"gossamer/made"
 )
-
-func base(t *testing.T, s string) api.URL {
-	t.Helper()
-	u, code := url.Parse(s)
-	if code != api.OK {
-		t.Fatalf("%s: %d", s, code)
-	}
-	return u
-}
 
 // told tells a map in short: the entries of each part, a scope's behind its prefix.
 func told(m api.Map) string {
@@ -70,7 +61,7 @@ func TestParse(t *testing.T) { // P19.1, P19.2
 		{`{"z": [], "integrity": {"q": 0}, "scopes": {"http://[": {}, "/s": {"": 0}}, "imports": {"a": 0}, "": null, "Imports": {}}`, "http://h/", " a=none {http://h/s}", "2,,a;4,http://[,;1,http://h/s,;6,,q;5,,z;5,,;5,,Imports"},
 		{`{"imports": 1, "imports": {"a": "x:y"}}`, "http://h/", " a=x:y", ""},
 	} {
-		m, warnings, place, code := imap.Parse([]byte(c.in), base(t, c.base))
+		m, warnings, place, code := imap.Parse([]byte(c.in), made.URL(c.base))
 		if told(m) != c.told || warned(warnings) != c.warned || place != 0 || code != api.OK {
 			t.Errorf("Parse(%s) = %q, %q, %v, %d", c.in, told(m), warned(warnings), place, code)
 		}
@@ -86,7 +77,7 @@ func TestFaults(t *testing.T) { // P19.1
 		"[]": {0, api.ErrType}, "null": {0, api.ErrType}, `"a"`: {0, api.ErrType}, "1": {0, api.ErrType}, `{"imports": []}`: {0, api.ErrType}, `{"imports": null}`: {0, api.ErrType}, `{"scopes": "a"}`: {0, api.ErrType}, `{"scopes": []}`: {0, api.ErrType}, `{"integrity": 1}`: {0, api.ErrType}, `{"integrity": null}`: {0, api.ErrType},
 		`{"scopes": {"/a": {}, "/b": []}}`: {0, api.ErrType}, `{"scopes": {"http://[": null}}`: {0, api.ErrType}, `{"imports": {"": 1}, "integrity": []}`: {0, api.ErrType},
 	} {
-		m, warnings, place, code := imap.Parse([]byte(in), base(t, "http://h/"))
+		m, warnings, place, code := imap.Parse([]byte(in), made.URL("http://h/"))
 		if told(m) != "" || len(warnings) != 0 || place != want.place || code != want.code {
 			t.Errorf("Parse(%.20q) = %q, %v, %v, %d", in, told(m), warnings, place, code)
 		}
@@ -96,7 +87,7 @@ func TestFaults(t *testing.T) { // P19.1
 func TestArgumentsStay(t *testing.T) { // R4
 	b := []byte(`{"imports":{"a":"x:y"},"scopes":{"/s":{"b":"x:z"}},"integrity":{"x:y":"q"},"w":0}`)
 	was := slices.Clone(b)
-	m, warnings, _, _ := imap.Parse(b, base(t, "http://h/"))
+	m, warnings, _, _ := imap.Parse(b, made.URL("http://h/"))
 	before := told(m) + warned(warnings)
 	if !slices.Equal(b, was) {
 		t.Error("Parse changed what was handed in")
@@ -116,7 +107,7 @@ func TestMany(t *testing.T) { // time
 		b.WriteString(`,"/` + strconv.Itoa(i) + `/":{"a":"/b"}`)
 	}
 	b.WriteString("}}")
-	m, _, _, code := imap.Parse([]byte(b.String()), base(t, "http://h/"))
+	m, _, _, code := imap.Parse([]byte(b.String()), made.URL("http://h/"))
 	if code != api.OK || len(m.Scopes) != 20001 || m.Scopes[20000].Prefix != "http://h/" || m.Scopes[0].Prefix != "http://h/9999/" {
 		t.Errorf("%d scopes, %d", len(m.Scopes), code)
 	}

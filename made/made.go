@@ -1,14 +1,54 @@
-// Package made makes trees from short texts, for the tests of the layers that
-// look at trees.
+// Package made makes URLs, values, maps and trees from short texts, for the
+// tests of many layers. A text of which nothing can be made is a fault of the
+// test: then it panics.
 package made
 
 import (
+	"strconv"
 	"strings"
 
 	"gossamer/api"
+	"gossamer/imap"
+	"gossamer/jval"
+	"gossamer/tree"
+	"gossamer/url"
 )
 
-// Nodes tells the nodes of texts: a path alone is a folder, path=data a file,
+func must(code api.Errno, of string) {
+	if code != api.OK {
+		panic(of + ": " + strconv.Itoa(int(code)))
+	}
+}
+
+// URL makes a URL.
+func URL(s string) api.URL {
+	u, code := url.Parse(s)
+	must(code, s)
+	return u
+}
+
+// Value makes a value of JSON.
+func Value(s string) api.Value {
+	v, _, code := jval.Parse([]byte(s))
+	must(code, s)
+	return v
+}
+
+// Map makes an import map, by a base.
+func Map(s string, base string) api.Map {
+	m, _, _, code := imap.Parse([]byte(s), URL(base))
+	must(code, s)
+	return m
+}
+
+// Tree makes a tree of the nodes of texts.
+func Tree(texts ...string) *tree.Tree {
+	t, code := tree.New(Nodes(texts...)...)
+	must(code, strings.Join(texts, " "))
+	return t
+}
+
+// Nodes makes the nodes of texts: a path alone is a folder, path=data a file,
 // path->to a link. The folders above each are made, too.
 func Nodes(texts ...string) []api.Node {
 	var b builder

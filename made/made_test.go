@@ -14,4 +14,29 @@ func TestNodes(t *testing.T) {
 	if !slices.Equal(got, want) {
 		t.Errorf("Nodes = %v", got)
 	}
+	if n, ok := made.Tree("/a/b=z").Look("/a/b"); !ok || n.Data != "z" {
+		t.Errorf("Tree has %v", n)
+	}
+}
+
+func TestTexts(t *testing.T) {
+	if u := made.URL("http://h/a"); u.Host.S != "h" || made.Value("[1]").Kind != api.Array {
+		t.Errorf("URL = %v", u)
+	}
+	if m := made.Map(`{"imports":{"a":"./b"}}`, "http://h/"); len(m.Imports) != 1 || m.Imports[0].To != "http://h/b" {
+		t.Errorf("Map = %v", m)
+	}
+}
+
+func TestFaults(t *testing.T) {
+	for i, make := range []func(){func() { made.URL("a") }, func() { made.Value("[") }, func() { made.Map("[]", "data:") }, func() { made.Map("{}", "a") }, func() { made.Tree("/a/../b") }} {
+		func() {
+			defer func() {
+				if recover() == nil {
+					t.Errorf("%d: something was made", i)
+				}
+			}()
+			make()
+		}()
+	}
 }

@@ -11,29 +11,10 @@ import (
 
 	"gossamer/api"
 	"gossamer/hres"
-	"gossamer/imap"
+	"gossamer/made"
 	"gossamer/merge"
 	"gossamer/order"
-	"gossamer/url"
 )
-
-func base(t *testing.T, s string) api.URL {
-	t.Helper()
-	u, code := url.Parse(s)
-	if code != api.OK {
-		t.Fatalf("%s: %d", s, code)
-	}
-	return u
-}
-
-func maps(t *testing.T, s string) api.Map {
-	t.Helper()
-	m, _, _, code := imap.Parse([]byte(s), base(t, "http://h/"))
-	if code != api.OK {
-		t.Fatalf("%s: %d", s, code)
-	}
-	return m
-}
 
 // told tells a map in short: the entries of each part, a scope's behind its prefix.
 func told(m api.Map) string {
@@ -107,7 +88,7 @@ func TestMerge(t *testing.T) { // P21.2
 		{`{"imports":{"\uff21":"x:1","a":"x:2"}}`, `{"imports":{"\ud83d\ude00":"x:3","\uff22":"x:4"}}`, nil, " \uff22=x:4 \uff21=x:1 \U0001f600=x:3 a=x:2", ""},
 		{`{"imports":{"a":"x:2"}}`, `{"scopes":{"/s/":{"a":"x:1"}}}`, []api.Record{bare("http://h/s/", "a")}, " a=x:2 {http://h/s/}", "7,http://h/s/,a"},
 	} {
-		m, warnings := merge.Merge(maps(t, c.old), maps(t, c.more), c.rs...)
+		m, warnings := merge.Merge(made.Map(c.old, "http://h/"), made.Map(c.more, "http://h/"), c.rs...)
 		if told(m) != c.told || warned(warnings) != c.warned {
 			t.Errorf("Merge(%s, %s, %v) = %q, %q", c.old, c.more, c.rs, told(m), warned(warnings))
 		}
@@ -159,7 +140,7 @@ func plain(old api.Map, more api.Map, rs []api.Record) (api.Map, []api.Warning) 
 }
 
 // some makes a map from a few names, so that many meet.
-func some(t *testing.T, r *rand.Rand) api.Map {
+func some(r *rand.Rand) api.Map {
 	keys := []string{"a", "a/", "a/b", "a/b/", "b/", "x:a/", "x:a/b", "/p/", "/p/q", "./", "\U0001f600", "\uff21", "http://g/", "c"}
 	tos := []string{`"/1/"`, `"x:2/"`, `"http://k/3/"`, "null"}
 	part := func() string {
@@ -174,7 +155,7 @@ func some(t *testing.T, r *rand.Rand) api.Map {
 		prefix := []string{"/", "/s", "/s/", "/s/t", "/s/t/", "x:", "http://g/"}[r.Intn(7)]
 		scopes = append(scopes, `"`+prefix+`":`+part())
 	}
-	return maps(t, `{"imports":`+part()+`,"scopes":{`+strings.Join(scopes, ",")+`},"integrity":`+strings.ReplaceAll(part(), "null", `"n"`)+`}`)
+	return made.Map(`{"imports":`+part()+`,"scopes":{`+strings.Join(scopes, ",")+`},"integrity":`+strings.ReplaceAll(part(), "null", `"n"`)+`}`, "http://h/")
 }
 
 func TestLikeThePlainWay(t *testing.T) { // P21.2, P21.3
@@ -187,7 +168,7 @@ func TestLikeThePlainWay(t *testing.T) { // P21.2, P21.3
 		padding.Scopes[1].Imports = append(padding.Scopes[1].Imports, api.Entry{Key: fmt.Sprintf("z%d", 9-i), To: "z:"})
 	}
 	for range 4000 {
-		old, more := some(t, r), some(t, r)
+		old, more := some(r), some(r)
 		if r.Intn(2) == 0 {
 			more, _ = merge.Merge(more, padding)
 		}
@@ -196,7 +177,7 @@ func TestLikeThePlainWay(t *testing.T) { // P21.2, P21.3
 		var all []asked
 		for range r.Intn(8) {
 			spec, by := specs[r.Intn(len(specs))], bases[r.Intn(len(bases))]
-			if s, record, code := hres.Resolve(old, spec, base(t, by)); code == api.OK {
+			if s, record, code := hres.Resolve(old, spec, made.URL(by)); code == api.OK {
 				rs = append(rs, record)
 				all = append(all, asked{spec, by, s})
 			}
@@ -208,7 +189,7 @@ func TestLikeThePlainWay(t *testing.T) { // P21.2, P21.3
 			t.Fatalf("Merge(%q, %q, %v) = %q, %q, want %q, %q", told(old), told(more), rs, told(m), warned(warnings), told(want), warned(also))
 		}
 		for _, a := range all {
-			if s, _, code := hres.Resolve(m, a.spec, base(t, a.base)); s != a.url || code != api.OK {
+			if s, _, code := hres.Resolve(m, a.spec, made.URL(a.base)); s != a.url || code != api.OK {
 				t.Fatalf("%q by %q was %q, is %q, %d", a.spec, a.base, a.url, s, code)
 			}
 		}

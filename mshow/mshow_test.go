@@ -8,19 +8,10 @@ import (
 
 	"gossamer/api"
 	"gossamer/imap"
+	"gossamer/made"
 	"gossamer/merge"
 	"gossamer/mshow"
-	"gossamer/url"
 )
-
-func base(t *testing.T, s string) api.URL {
-	t.Helper()
-	u, code := url.Parse(s)
-	if code != api.OK {
-		t.Fatalf("%s: %d", s, code)
-	}
-	return u
-}
 
 func to(key, to string) api.Entry { return api.Entry{Key: key, To: to} }
 
@@ -100,7 +91,7 @@ func TestWhatIsReadMayBe(t *testing.T) { // P22.3
 	read := func(by string) api.Map {
 		in := `{"imports":` + part() + `,"scopes":{` + text() + ":" + part() + "," + text() + ":" + part() + `},"integrity":` + part() + `}`
 		in = strings.ReplaceAll(in, `\U0001f600`, `\ud83d\ude00`)
-		m, _, _, code := imap.Parse([]byte(in), base(t, by))
+		m, _, _, code := imap.Parse([]byte(in), made.URL(by))
 		if code != api.OK {
 			t.Fatalf("%s: %d", in, code)
 		}

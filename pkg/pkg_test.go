@@ -6,18 +6,9 @@ import (
 	"testing"
 
 	"gossamer/api"
-	"gossamer/jval"
+	"gossamer/made"
 	"gossamer/pkg"
 )
-
-func value(t *testing.T, s string) api.Value {
-	t.Helper()
-	v, _, code := jval.Parse([]byte(s))
-	if code != api.OK {
-		t.Fatalf("%s: %d", s, code)
-	}
-	return v
-}
 
 func TestRead(t *testing.T) { // P23.1
 	for in, want := range map[string]api.Package{
@@ -28,11 +19,11 @@ func TestRead(t *testing.T) { // P23.1
 		`{"name": ["a"], "main": {"a": "b"}, "type": true}`: {},
 		`{"type": ""}`:   {},
 		`{"type": "es"}`: {},
-		`{"exports": "./a.js", "imports": {"#a": "./b.js"}}`:    {HasExports: true, Exports: value(t, `"./a.js"`), HasImports: true, Imports: value(t, `{"#a":"./b.js"}`)},
-		`{"exports": false, "imports": []}`:                     {HasExports: true, Exports: value(t, "false")},
-		`{"exports": {}, "imports": {}}`:                        {HasExports: true, Exports: value(t, "{}"), HasImports: true, Imports: value(t, "{}")},
-		`{"exports": [1, {"a": null}], "imports": null}`:        {HasExports: true, Exports: value(t, `[1,{"a":null}]`)},
-		`{"exports": 0, "imports": "x"}`:                        {HasExports: true, Exports: value(t, "0")},
+		`{"exports": "./a.js", "imports": {"#a": "./b.js"}}`:    {HasExports: true, Exports: made.Value(`"./a.js"`), HasImports: true, Imports: made.Value(`{"#a":"./b.js"}`)},
+		`{"exports": false, "imports": []}`:                     {HasExports: true, Exports: made.Value("false")},
+		`{"exports": {}, "imports": {}}`:                        {HasExports: true, Exports: made.Value("{}"), HasImports: true, Imports: made.Value("{}")},
+		`{"exports": [1, {"a": null}], "imports": null}`:        {HasExports: true, Exports: made.Value(`[1,{"a":null}]`)},
+		`{"exports": 0, "imports": "x"}`:                        {HasExports: true, Exports: made.Value("0")},
 		`{"name": "a", "name": "b", "main": "c", "main": null}`: {Name: "b", HasName: true},
 		" {\n} ": {},
 	} {
@@ -70,7 +61,7 @@ func TestMixed(t *testing.T) { // P23.2
 	for in, want := range map[string][2]bool{
 		"{}": {false, false}, `{".": 1}`: {true, false}, `{"./a": 1, "..b": 1, ".c": 1}`: {true, false}, `{"a": 1, "": 2}`: {false, true}, `{"a": 1, "./b": 2}`: {true, true}, `{"./b": 2, "": 1}`: {true, true}, `["."]`: {false, false}, `"."`: {false, false}, "null": {false, false}, `{"a": {".": 1}}`: {false, true}, `{"a.": 1}`: {false, true},
 	} {
-		if a, b := pkg.Mixed(value(t, in)); [2]bool{a, b} != want {
+		if a, b := pkg.Mixed(made.Value(in)); [2]bool{a, b} != want {
 			t.Errorf("Mixed(%s) = %v, %v", in, a, b)
 		}
 	}

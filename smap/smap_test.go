@@ -7,29 +7,10 @@ import (
 	"testing"
 
 	"gossamer/api"
-	"gossamer/jval"
+	"gossamer/made"
 	"gossamer/order"
 	"gossamer/smap"
-	"gossamer/url"
 )
-
-func value(t *testing.T, s string) api.Value {
-	t.Helper()
-	v, _, code := jval.Parse([]byte(s))
-	if code != api.OK {
-		t.Fatalf("%s: %d", s, code)
-	}
-	return v
-}
-
-func base(t *testing.T, s string) api.URL {
-	t.Helper()
-	u, code := url.Parse(s)
-	if code != api.OK {
-		t.Fatalf("%s: %d", s, code)
-	}
-	return u
-}
 
 func to(key, to string) api.Entry { return api.Entry{Key: key, To: to} }
 func none(key string) api.Entry   { return api.Entry{Key: key, None: true} }
@@ -58,7 +39,7 @@ func TestSorted(t *testing.T) { // P18.1
 		{`{"./a": "/1", "b": "x:y"}`, "data:z", []api.Entry{to("b", "x:y"), none("./a")}, []api.Warning{warn(api.WarnAddress, "./a")}},
 		{`{"a": "x:a", "ab": "x:b", "\uff21": "x:c", "\ud83d\ude00": "x:d", "A": "x:e"}`, "data:", []api.Entry{to("\uff21", "x:c"), to("\U0001f600", "x:d"), to("ab", "x:b"), to("a", "x:a"), to("A", "x:e")}, nil},
 	} {
-		entries, warnings := smap.Sorted(value(t, c.in), base(t, c.base), "S")
+		entries, warnings := smap.Sorted(made.Value(c.in), made.URL(c.base), "S")
 		if !slices.Equal(entries, c.entries) || !slices.Equal(warnings, c.warnings) {
 			t.Errorf("Sorted(%s) = %v, %v", c.in, entries, warnings)
 		}
@@ -83,9 +64,9 @@ func TestFind(t *testing.T) { // P18.1
 }
 
 func TestReadAgain(t *testing.T) { // P18.2
-	in := value(t, `{"a": "/b", "./c/": "/d/", "e/": "/f", "//g": "x:y", "//\u00e9/": "/i/", "http://j": "/k", "": 1, "\uff21": "./l m", "\ud83d\ude00": null, "./n": "../o?p#q"}`)
+	in := made.Value(`{"a": "/b", "./c/": "/d/", "e/": "/f", "//g": "x:y", "//\u00e9/": "/i/", "http://j": "/k", "": 1, "\uff21": "./l m", "\ud83d\ude00": null, "./n": "../o?p#q"}`)
 	for _, s := range []string{"http://h/r/s", "file:///c:/t", "data:u", "x:/v", "x://"} {
-		b := base(t, s)
+		b := made.URL(s)
 		entries, _ := smap.Sorted(in, b, "")
 		again := api.Value{Kind: api.Object}
 		for _, e := range entries {
@@ -113,7 +94,7 @@ func TestMany(t *testing.T) { // P18.1, and time
 		v.K = append(v.K, "./"+strconv.Itoa(i*7919%30000), "k"+strconv.Itoa(i))
 		v.L = append(v.L, api.Value{Kind: api.String, S: "/" + strings.Repeat("x", i%9)}, api.Value{})
 	}
-	entries, warnings := smap.Sorted(v, base(t, "http://h/"), "")
+	entries, warnings := smap.Sorted(v, made.URL("http://h/"), "")
 	if len(entries) != 60000 || len(warnings) != 30000 || !slices.IsSortedFunc(entries, func(a, b api.Entry) int { return order.Compare(b.Key, a.Key) }) {
 		t.Errorf("%d entries, %d warnings", len(entries), len(warnings))
 	}
