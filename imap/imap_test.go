@@ -1,7 +1,6 @@
 package imap_test
 
 import (
-	"fmt"
 	"slices"
 	"strconv"
 	"strings"
@@ -11,38 +10,6 @@ import (
 	"gossamer/imap"
 	"gossamer/made"
 )
-
-// told tells a map in short: the entries of each part, a scope's behind its prefix.
-func told(m api.Map) string {
-	s := entries(m.Imports)
-	for _, scope := range m.Scopes {
-		s += " {" + scope.Prefix + entries(scope.Imports) + "}"
-	}
-	if len(m.Integrity) > 0 {
-		s += " #" + entries(m.Integrity)
-	}
-	return s
-}
-
-func entries(l []api.Entry) string {
-	s := ""
-	for _, e := range l {
-		if e.None {
-			s += " " + e.Key + "=none" + e.To
-		} else {
-			s += " " + e.Key + "=" + e.To
-		}
-	}
-	return s
-}
-
-func warned(l []api.Warning) string {
-	var s []string
-	for _, w := range l {
-		s = append(s, fmt.Sprintf("%d,%s,%s", w.Kind, w.Scope, w.Key))
-	}
-	return strings.Join(s, ";")
-}
 
 func TestParse(t *testing.T) { // P19.1, P19.2
 	for _, c := range []struct{ in, base, told, warned string }{
@@ -62,8 +29,8 @@ func TestParse(t *testing.T) { // P19.1, P19.2
 		{`{"imports": 1, "imports": {"a": "x:y"}}`, "http://h/", " a=x:y", ""},
 	} {
 		m, warnings, place, code := imap.Parse([]byte(c.in), made.URL(c.base))
-		if told(m) != c.told || warned(warnings) != c.warned || place != 0 || code != api.OK {
-			t.Errorf("Parse(%s) = %q, %q, %v, %d", c.in, told(m), warned(warnings), place, code)
+		if made.Told(m) != c.told || made.Warned(warnings) != c.warned || place != 0 || code != api.OK {
+			t.Errorf("Parse(%s) = %q, %q, %v, %d", c.in, made.Told(m), made.Warned(warnings), place, code)
 		}
 	}
 }
@@ -78,8 +45,8 @@ func TestFaults(t *testing.T) { // P19.1
 		`{"scopes": {"/a": {}, "/b": []}}`: {0, api.ErrType}, `{"scopes": {"http://[": null}}`: {0, api.ErrType}, `{"imports": {"": 1}, "integrity": []}`: {0, api.ErrType},
 	} {
 		m, warnings, place, code := imap.Parse([]byte(in), made.URL("http://h/"))
-		if told(m) != "" || len(warnings) != 0 || place != want.place || code != want.code {
-			t.Errorf("Parse(%.20q) = %q, %v, %v, %d", in, told(m), warnings, place, code)
+		if made.Told(m) != "" || len(warnings) != 0 || place != want.place || code != want.code {
+			t.Errorf("Parse(%.20q) = %q, %v, %v, %d", in, made.Told(m), warnings, place, code)
 		}
 	}
 }
@@ -88,14 +55,14 @@ func TestArgumentsStay(t *testing.T) { // R4
 	b := []byte(`{"imports":{"a":"x:y"},"scopes":{"/s":{"b":"x:z"}},"integrity":{"x:y":"q"},"w":0}`)
 	was := slices.Clone(b)
 	m, warnings, _, _ := imap.Parse(b, made.URL("http://h/"))
-	before := told(m) + warned(warnings)
+	before := made.Told(m) + made.Warned(warnings)
 	if !slices.Equal(b, was) {
 		t.Error("Parse changed what was handed in")
 	}
 	for i := range b {
 		b[i] = ' '
 	}
-	if told(m)+warned(warnings) != before {
+	if made.Told(m)+made.Warned(warnings) != before {
 		t.Error("Parse shares memory with what was handed in")
 	}
 }

@@ -28,6 +28,16 @@ func TestTexts(t *testing.T) {
 	}
 }
 
+func TestTold(t *testing.T) {
+	m := made.Map(`{"imports":{"a":"x:1","b":null},"scopes":{"x:p":{"c":"x:2"}},"integrity":{"x:1":"sha"}}`, "data:")
+	if got := made.Told(m); got != " b=none a=x:1 {x:p c=x:2} # x:1=sha" {
+		t.Errorf("Told = %q", got)
+	}
+	if got := made.Warned([]api.Warning{{Kind: 1, Scope: "s", Key: "k"}, {Kind: 2}}); got != "1,s,k;2,," {
+		t.Errorf("Warned = %q", got)
+	}
+}
+
 func TestFaults(t *testing.T) {
 	for i, make := range []func(){func() { made.URL("a") }, func() { made.Value("[") }, func() { made.Map("[]", "data:") }, func() { made.Map("{}", "a") }, func() { made.Tree("/a/../b") }} {
 		func() {

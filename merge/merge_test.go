@@ -16,37 +16,6 @@ import (
 	"gossamer/order"
 )
 
-// told tells a map in short: the entries of each part, a scope's behind its prefix.
-func told(m api.Map) string {
-	s := entries(m.Imports)
-	for _, scope := range m.Scopes {
-		s += " {" + scope.Prefix + entries(scope.Imports) + "}"
-	}
-	if len(m.Integrity) > 0 {
-		s += " #" + entries(m.Integrity)
-	}
-	return s
-}
-
-func entries(l []api.Entry) string {
-	s := ""
-	for _, e := range l {
-		s += " " + e.Key + "=" + e.To
-		if e.None {
-			s += "none"
-		}
-	}
-	return s
-}
-
-func warned(l []api.Warning) string {
-	var s []string
-	for _, w := range l {
-		s = append(s, fmt.Sprintf("%d,%s,%s", w.Kind, w.Scope, w.Key))
-	}
-	return strings.Join(s, ";")
-}
-
 func TestUses(t *testing.T) { // P21.1
 	for _, c := range []struct {
 		spec        string
@@ -89,13 +58,13 @@ func TestMerge(t *testing.T) { // P21.2
 		{`{"imports":{"a":"x:2"}}`, `{"scopes":{"/s/":{"a":"x:1"}}}`, []api.Record{bare("http://h/s/", "a")}, " a=x:2 {http://h/s/}", "7,http://h/s/,a"},
 	} {
 		m, warnings := merge.Merge(made.Map(c.old, "http://h/"), made.Map(c.more, "http://h/"), c.rs...)
-		if told(m) != c.told || warned(warnings) != c.warned {
-			t.Errorf("Merge(%s, %s, %v) = %q, %q", c.old, c.more, c.rs, told(m), warned(warnings))
+		if made.Told(m) != c.told || made.Warned(warnings) != c.warned {
+			t.Errorf("Merge(%s, %s, %v) = %q, %q", c.old, c.more, c.rs, made.Told(m), made.Warned(warnings))
 		}
 	}
 	m, warnings := merge.Merge(api.Map{Imports: []api.Entry{{Key: "a", To: "x"}}}, api.Map{Imports: []api.Entry{{Key: "a", To: "y"}}})
-	if told(m) != " a=x" || warned(warnings) != "8,,a" {
-		t.Errorf("%q, %q", told(m), warned(warnings))
+	if made.Told(m) != " a=x" || made.Warned(warnings) != "8,,a" {
+		t.Errorf("%q, %q", made.Told(m), made.Warned(warnings))
 	}
 }
 
@@ -182,11 +151,11 @@ func TestLikeThePlainWay(t *testing.T) { // P21.2, P21.3
 				all = append(all, asked{spec, by, s})
 			}
 		}
-		before := told(old) + told(more) + fmt.Sprint(rs)
+		before := made.Told(old) + made.Told(more) + fmt.Sprint(rs)
 		m, warnings := merge.Merge(old, more, rs...)
 		want, also := plain(old, more, rs)
-		if told(m) != told(want) || warned(warnings) != warned(also) {
-			t.Fatalf("Merge(%q, %q, %v) = %q, %q, want %q, %q", told(old), told(more), rs, told(m), warned(warnings), told(want), warned(also))
+		if made.Told(m) != made.Told(want) || made.Warned(warnings) != made.Warned(also) {
+			t.Fatalf("Merge(%q, %q, %v) = %q, %q, want %q, %q", made.Told(old), made.Told(more), rs, made.Told(m), made.Warned(warnings), made.Told(want), made.Warned(also))
 		}
 		for _, a := range all {
 			if s, _, code := hres.Resolve(m, a.spec, made.URL(a.base)); s != a.url || code != api.OK {
@@ -204,7 +173,7 @@ func TestLikeThePlainWay(t *testing.T) { // P21.2, P21.3
 				l[j].To = "z"
 			}
 		}
-		if told(old)+told(more)+fmt.Sprint(rs) != before {
+		if made.Told(old)+made.Told(more)+fmt.Sprint(rs) != before {
 			t.Fatal("Merge changed or shares what was handed in") // R4
 		}
 	}
@@ -215,20 +184,20 @@ func TestUnsorted(t *testing.T) { // P21.2: all stand falling
 	old := api.Map{Imports: []api.Entry{a, c}, Integrity: []api.Entry{b, d}, Scopes: []api.Scope{{Prefix: "x:p"}, {Prefix: "x:r", Imports: []api.Entry{a, c}}}}
 	more := api.Map{Imports: []api.Entry{b, a, d}, Integrity: []api.Entry{a, b, c}, Scopes: []api.Scope{{Prefix: "x:q"}, {Prefix: "x:s"}, {Prefix: "x:p", Imports: []api.Entry{a, b}}}}
 	m, warnings := merge.Merge(old, more)
-	if got := told(m); got != " d=x:4 c=x:3 b=x:2 a=x:1 {x:s} {x:r c=x:3 a=x:1} {x:q} {x:p b=x:2 a=x:1} # d=x:4 c=x:3 b=x:2 a=x:1" {
+	if got := made.Told(m); got != " d=x:4 c=x:3 b=x:2 a=x:1 {x:s} {x:r c=x:3 a=x:1} {x:q} {x:p b=x:2 a=x:1} # d=x:4 c=x:3 b=x:2 a=x:1" {
 		t.Errorf("Merge = %q", got)
 	}
-	if got := warned(warnings); got != "8,,b;8,,a" {
+	if got := made.Warned(warnings); got != "8,,b;8,,a" {
 		t.Errorf("warnings %q", got)
 	}
 }
 
 func TestNothing(t *testing.T) {
 	m, warnings := merge.Merge(api.Map{}, api.Map{})
-	if told(m) != "" || len(warnings) != 0 || len(m.Imports)+len(m.Scopes)+len(m.Integrity) != 0 {
+	if made.Told(m) != "" || len(warnings) != 0 || len(m.Imports)+len(m.Scopes)+len(m.Integrity) != 0 {
 		t.Errorf("%v, %v", m, warnings)
 	}
-	if m, _ := merge.Merge(api.Map{}, api.Map{}, api.Record{Spec: "a"}); !reflect.DeepEqual(told(m), "") {
+	if m, _ := merge.Merge(api.Map{}, api.Map{}, api.Record{Spec: "a"}); !reflect.DeepEqual(made.Told(m), "") {
 		t.Errorf("%v", m)
 	}
 }
